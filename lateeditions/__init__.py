@@ -1,0 +1,1 @@
+"""Letters that come late, while desks are carried over to newer editions."""

@@ -1,0 +1,120 @@
+"""What several files need: kinds of values, what is reached, shortest rows, lots."""
+
+
+def is_int(value):
+    return isinstance(value, int) and not isinstance(value, bool)
+
+
+def is_name(value):
+    if not isinstance(value, str) or not 1 <= len(value) <= 8:
+        return False
+    return all(["a" <= letter <= "z" for letter in value])
+
+
+def is_one_of(value, names):
+    """Whether any value is one of some strings."""
+    return isinstance(value, str) and value in names
+
+
+def are_different(names):
+    return len(set(names)) == len(names)
+
+
+def is_table(value, keys):
+    """Whether any value is a dict with just these keys, different strings."""
+    if not isinstance(value, dict) or len(value) != len(keys):
+        return False
+    return all([key in value for key in keys])
+
+
+def first_met(things):
+    """The different ones of some things, in the sequence in which they come first."""
+    return list({thing: True for thing in things})
+
+
+def add_new(states, others):
+    """Puts those of the others that are not among the states behind them."""
+    for state in others:
+        if state not in states:
+            states.append(state)
+
+
+def reached(firsts, targets):
+    """The states to which targets(state) leads on from the firsts, each where it is met first.
+
+    All to which one of the firsts leads stand ahead of the next one.
+    """
+    states = []
+    for first in firsts:
+        at = len(states)
+        add_new(states, [first])
+        while at < len(states):
+            add_new(states, targets(states[at]))
+            at += 1
+    return states
+
+
+def shortest_row(start, moves, found):
+    """The labels on a shortest way from start to a state that is found, or None.
+
+    moves(state) tells the list of the pairs (label, state behind it).
+    """
+    rows = {start: []}
+    queue = [start]
+    at = 0
+    while at < len(queue):
+        state = queue[at]
+        at += 1
+        if found(state):
+            return rows[state]
+        for label, target in moves(state):
+            if target not in rows:
+                rows[target] = rows[state] + [label]
+                queue.append(target)
+    return None
+
+
+def parting(one, other, signs, moves):
+    """A shortest row of labels behind which two nodes have different signs, or None.
+
+    moves is a dict from nodes to dicts from labels to nodes.
+    """
+    def differ(pair):
+        return signs[pair[0]] != signs[pair[1]]
+
+    def led_pairs(pair):
+        return [(label, (node, moves[pair[1]][label])) for label, node in moves[pair[0]].items()]
+
+    return shortest_row((one, other), led_pairs, differ)
+
+
+def numbered(nodes, signs):
+    """The dict from nodes to numbers of their signs, counted as they come first."""
+    numbers = {}
+    for node in nodes:
+        if signs[node] not in numbers:
+            numbers[signs[node]] = len(numbers)
+    return {node: numbers[signs[node]] for node in nodes}
+
+
+def lot_numbers(nodes, signs, moves):
+    """The dict from nodes to the numbers of their lots: the same signs behind all rows.
+
+    Nodes of one sign take the same labels, in the same sequence.
+    """
+    coarse = {}
+    lots = numbered(nodes, signs)
+    while lots != coarse:
+        coarse = lots
+        behind = {node: [node] + list(moves[node].values()) for node in nodes}
+        finer = {node: tuple([coarse[target] for target in behind[node]]) for node in nodes}
+        lots = numbered(nodes, finer)
+    return lots
+
+
+def gathered(nodes, lots):
+    """The list of the lists of nodes of one lot, by their first ones."""
+    table = {lots[node]: [] for node in nodes}
+    for node in nodes:
+        table[lots[node]].append(node)
+    return list(table.values())
