@@ -3,6 +3,7 @@
 import itertools
 import random
 
+from lateeditions.books import Book, Change
 from lateeditions.desks import Desk
 from lateeditions.errors import BadRow
 
@@ -252,3 +253,81 @@ def not_programs():
         wrong.append((registers, (("up", ((condition, ()),)),), shows))
         wrong.append((registers, deeds, ((condition, "dim"), (None, "dark"))))
     return wrong
+
+
+def dim():
+    return Desk(
+        ["off", "low", "high"],
+        {
+            "up": {"off": "low", "low": "high", "high": "high"},
+            "down": {"off": "off", "low": "off", "high": "low"},
+        },
+        {"off": "dark", "low": "half", "high": "light"},
+    )
+
+
+def grow():
+    return Change(
+        lamp(), dim(), {"off": "off", "on": "high"}, {"press": ["up", "up"], "cut": ["down", "down"]},
+        {"dark": "dark", "half": "light", "light": "light"},
+    )
+
+
+def lamp_book():
+    return Book([lamp(), dim()], [grow()])
+
+
+def sights_of(desk):
+    return sorted({desk.sight(one) for one in desk.standings})
+
+
+def made_change(seed, first, second, most=3):
+    """A change between two desks with rows of at most so many deeds, the same for each seed."""
+    pick = random.Random(seed)
+    return Change(
+        first, second, {one: pick.choice(second.standings) for one in first.standings},
+        {deed: [pick.choice(second.deeds) for _ in range(pick.randint(0, most))] for deed in first.deeds},
+        {sight: pick.choice(sights_of(first)) for sight in sights_of(second)},
+    )
+
+
+def made_book(seed, editions):
+    """A book of so many editions of two to four standings, the same for each seed."""
+    desks = [made_desk(seed + 100 * k, 2 + (seed + k) % 3, 1 + (seed + k) % 2, 2) for k in range(editions)]
+    return Book(desks, [made_change(seed + k, desks[k], desks[k + 1]) for k in range(editions - 1)])
+
+
+def all_places(book):
+    return [(edition, one) for edition, desk in enumerate(book.desks) for one in desk.standings]
+
+
+def plain_inputs(book, edition):
+    deeds = [(number, deed) for number in range(edition + 1) for deed in book.desks[number].deeds]
+    return deeds + (["carry"] if edition < book.last else [])
+
+
+def plain_led(book, place, row):
+    """The place behind a row of inputs, by the words of the document alone."""
+    edition, standing = place
+    for one in row:
+        if one == "carry":
+            edition, standing = edition + 1, book.changes[edition].carried(standing)
+        elif one[0] == edition:
+            standing = book.desks[edition].lead(standing, [one[1]])
+        else:
+            newer = [(one[0] + 1, deed) for deed in book.changes[one[0]].row(one[1])]
+            edition, standing = plain_led(book, (edition, standing), newer)
+    return (edition, standing)
+
+
+def rows_from(book, edition, most):
+    """All rows of at most so many inputs that places of an edition take, by their lengths."""
+    rows = [([], edition)]
+    while rows:
+        yield from (row for row, _ in rows)
+        if len(rows[0][0]) == most:
+            return
+        rows = [
+            (row + [one], at + (one == "carry"))
+            for row, at in rows for one in plain_inputs(book, at)
+        ]

@@ -1,0 +1,162 @@
+"""Places of a book, the inputs that they take, and places that are alike for good."""
+
+from lateeditions.common import (
+    gathered, is_int, is_one_of, lot_numbers, parting, reached,
+)
+from lateeditions.errors import BadEdition, BadInput, BadPlace
+
+CARRY = "carry"
+
+
+def check_edition(value, last):
+    """Refuses any value that is not the number of an edition up to the last one told."""
+    if not is_int(value) or not 0 <= value <= last:
+        raise BadEdition(value)
+
+
+def is_place(book, value):
+    if not isinstance(value, tuple) or len(value) != 2:
+        return False
+    edition, standing = value
+    if not is_int(edition) or not 0 <= edition <= book.last:
+        return False
+    return is_one_of(standing, book.desks[edition].standings)
+
+
+def check_place(book, value):
+    if not is_place(book, value):
+        raise BadPlace(value)
+
+
+def check_places(book, one, other):
+    """Refuses any values that are not two places of one edition."""
+    check_place(book, one)
+    if not is_place(book, other) or one[0] != other[0]:
+        raise BadPlace(other)
+
+
+def inputs(book, edition):
+    """The list of the inputs that places of an edition take."""
+    check_edition(edition, book.last)
+    return inputs_at(book, edition)
+
+
+def inputs_at(book, edition):
+    elder = range(edition + 1)
+    taken = [(number, deed) for number in elder for deed in book.desks[number].deeds]
+    return taken + ([CARRY] if edition < book.last else [])
+
+
+def is_input(book, edition, value):
+    """Whether any value is an input that places of an edition take."""
+    if isinstance(value, str):
+        return value == CARRY and edition < book.last
+    if not isinstance(value, tuple) or len(value) != 2:
+        return False
+    number, deed = value
+    if not is_int(number) or not 0 <= number <= edition:
+        return False
+    return is_one_of(deed, book.desks[number].deeds)
+
+
+def deed_leads(book, edition):
+    """Where deeds lead in an edition: a dict from inputs to dicts between its standings."""
+    desk = book.desks[edition]
+    leads = {}
+    for deed in desk.deeds:
+        leads[(edition, deed)] = {one: desk.lead(one, [deed]) for one in desk.standings}
+    for number in reversed(range(edition)):
+        change = book.changes[number]
+        for deed in change.first.deeds:
+            newer = [leads[(number + 1, one)] for one in change.row(deed)]
+            leads[(number, deed)] = {one: led_through(newer, one) for one in desk.standings}
+    return leads
+
+
+def led_through(leads, standing):
+    for lead in leads:
+        standing = lead[standing]
+    return standing
+
+
+def place_moves(book):
+    """The dict from places to dicts from the inputs that they take to the places behind."""
+    moves = {}
+    for edition, desk in enumerate(book.desks):
+        leads = deed_leads(book, edition)
+        for standing in desk.standings:
+            targets = {}
+            for one in inputs_at(book, edition):
+                targets[one] = place_behind(book, leads, (edition, standing), one)
+            moves[(edition, standing)] = targets
+    return moves
+
+
+def place_behind(book, leads, place, one):
+    edition, standing = place
+    if one == CARRY:
+        return (edition + 1, book.changes[edition].carried(standing))
+    return (edition, leads[one][standing])
+
+
+def place_sights(book):
+    """The dict from places to the sights that they have at their own desks."""
+    return {
+        (edition, standing): desk.sight(standing)
+        for edition, desk in enumerate(book.desks)
+        for standing in desk.standings
+    }
+
+
+def places_along(book, place, row):
+    """The list of a place and the places behind each input of a row."""
+    moves = place_moves(book)
+    places = [place]
+    for position, one in enumerate(row):
+        if not is_input(book, place[0], one):
+            raise BadInput(position)
+        place = moves[place][one]
+        places.append(place)
+    return places
+
+
+def led(book, place, row):
+    """The place behind a row of inputs."""
+    check_place(book, place)
+    return places_along(book, place, row)[-1]
+
+
+def book_come(book):
+    """The list of the places that can come, by editions and their desks' sequences."""
+    moves = place_moves(book)
+    met = reached([book.start], lambda place: list(moves[place].values()))
+    return [place for place in moves if place in met]
+
+
+def alike_for_good(book, one, other):
+    return parting_inputs(book, one, other) is None
+
+
+def parting_inputs(book, one, other):
+    """A shortest row of inputs behind which something else is seen, or None."""
+    check_places(book, one, other)
+    return parting(one, other, place_sights(book), place_moves(book))
+
+
+def place_lots(book):
+    """The dict from places to the numbers of their lots of places alike for good.
+
+    The places that can come stand ahead in it.
+    """
+    moves = place_moves(book)
+    sights = place_sights(book)
+    come = book_come(book)
+    places = come + [place for place in moves if place not in come]
+    signs = {place: (place[0], sights[place]) for place in places}
+    return lot_numbers(places, signs, moves)
+
+
+def book_lots(book):
+    """The list of the lists of places that are alike for good."""
+    numbers = place_lots(book)
+    return gathered(list(numbers), numbers)
