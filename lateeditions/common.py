@@ -32,10 +32,11 @@ def first_met(things):
     return list({thing: True for thing in things})
 
 
-def add_new(states, others):
-    """Puts those of the others that are not among the states behind them."""
+def add_new(states, met, others):
+    """Puts those of the others that are not met yet behind the states."""
     for state in others:
-        if state not in states:
+        if state not in met:
+            met[state] = True
             states.append(state)
 
 
@@ -45,19 +46,21 @@ def reached(firsts, targets):
     All to which one of the firsts leads stand ahead of the next one.
     """
     states = []
+    met = {}
+    at = 0
     for first in firsts:
-        at = len(states)
-        add_new(states, [first])
+        add_new(states, met, [first])
         while at < len(states):
-            add_new(states, targets(states[at]))
+            add_new(states, met, targets(states[at]))
             at += 1
     return states
 
 
-def shortest_row(start, moves, found):
-    """The labels on a shortest way from start to a state that is found, or None.
+def spread(start, moves, found):
+    """The tuple (rows, state): the labels on shortest ways from start, and a nearest state found.
 
-    moves(state) tells the list of the pairs (label, state behind it).
+    moves(state) tells the list of the pairs (label, state behind it). Nothing is looked at behind
+    the state that is found; it is None if none is, and rows are those to all states then.
     """
     rows = {start: []}
     queue = [start]
@@ -66,12 +69,23 @@ def shortest_row(start, moves, found):
         state = queue[at]
         at += 1
         if found(state):
-            return rows[state]
+            return (rows, state)
         for label, target in moves(state):
             if target not in rows:
                 rows[target] = rows[state] + [label]
                 queue.append(target)
-    return None
+    return (rows, None)
+
+
+def shortest_row(start, moves, found):
+    """The labels on a shortest way from start to a state that is found, or None."""
+    rows, state = spread(start, moves, found)
+    return None if state is None else rows[state]
+
+
+def shortest_rows(start, moves):
+    """The dict from all states to which start is led to the labels on shortest ways there."""
+    return spread(start, moves, lambda state: False)[0]
 
 
 def parting(one, other, signs, moves):

@@ -1,7 +1,7 @@
 """Places of a book, the inputs that they take, and places that are alike for good."""
 
 from lateeditions.common import (
-    gathered, is_int, is_one_of, lot_numbers, parting, reached,
+    gathered, is_int, is_one_of, lot_numbers, parting, reached, shortest_rows,
 )
 from lateeditions.errors import BadEdition, BadInput, BadPlace
 
@@ -42,21 +42,47 @@ def inputs(book, edition):
 
 
 def inputs_at(book, edition):
+    return deeds_at(book, edition) + ([CARRY] if edition < book.last else [])
+
+
+def deeds_at(book, edition):
+    """The inputs that are deeds of an edition, or of those before."""
     elder = range(edition + 1)
-    taken = [(number, deed) for number in elder for deed in book.desks[number].deeds]
-    return taken + ([CARRY] if edition < book.last else [])
+    return [(number, deed) for number in elder for deed in book.desks[number].deeds]
 
 
 def is_input(book, edition, value):
     """Whether any value is an input that places of an edition take."""
+    return is_taken([desk.deeds for desk in book.desks], edition, value)
+
+
+def is_taken(deeds, edition, value):
+    """Whether any value is an input in an edition, when all editions have these names of deeds."""
     if isinstance(value, str):
-        return value == CARRY and edition < book.last
+        return value == CARRY and edition < len(deeds) - 1
     if not isinstance(value, tuple) or len(value) != 2:
         return False
     number, deed = value
     if not is_int(number) or not 0 <= number <= edition:
         return False
-    return is_one_of(deed, book.desks[number].deeds)
+    return is_one_of(deed, deeds[number])
+
+
+def is_deed_at(book, edition, value):
+    """Whether any value is a deed that places of an edition take."""
+    return isinstance(value, tuple) and is_input(book, edition, value)
+
+
+def is_input_row(book, edition, value):
+    """Whether any value is a list of inputs that places of an edition take, one by one."""
+    if not isinstance(value, list):
+        return False
+    for one in value:
+        if not is_input(book, edition, one):
+            return False
+        if one == CARRY:
+            edition += 1
+    return True
 
 
 def deed_leads(book, edition):
@@ -126,11 +152,23 @@ def led(book, place, row):
     return places_along(book, place, row)[-1]
 
 
+def led_by(moves, place, row):
+    """The place behind a row of inputs that it takes."""
+    for one in row:
+        place = moves[place][one]
+    return place
+
+
 def book_come(book):
     """The list of the places that can come, by editions and their desks' sequences."""
     moves = place_moves(book)
     met = reached([book.start], lambda place: list(moves[place].values()))
     return [place for place in moves if place in met]
+
+
+def come_rows(moves, start):
+    """The dict from the places that can come to shortest rows of inputs that lead start there."""
+    return shortest_rows(start, lambda place: list(moves[place].items()))
 
 
 def alike_for_good(book, one, other):

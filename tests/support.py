@@ -6,6 +6,7 @@ import random
 from lateeditions.books import Book, Change
 from lateeditions.desks import Desk
 from lateeditions.errors import BadRow
+from lateeditions.programs import done
 
 
 def lamp():
@@ -331,3 +332,216 @@ def rows_from(book, edition, most):
             (row + [one], at + (one == "carry"))
             for row, at in rows for one in plain_inputs(book, at)
         ]
+
+
+def plain_values(program, firsts):
+    """The values in the sequence of a compiled desk."""
+    found = []
+    for first in firsts:
+        fresh = [first]
+        while fresh:
+            values = fresh.pop(0)
+            if values not in found:
+                found.append(values)
+                fresh += [done(program, values, deed) for deed, _ in program[1]]
+    return found
+
+
+def shown_first(program):
+    """The names that a program shows, in the sequence in which they stand there first."""
+    return list(dict.fromkeys(name for _, name in program[2]))
+
+
+def made_told_change(seed, first, second):
+    """A program of a change between two programs, the same for each seed."""
+    pick = random.Random(seed)
+    cases = made_cases(pick, [row[0] for row in first[0]], [row[0] for row in second[0]])
+    rows = tuple(
+        (deed, tuple(pick.choice(second[1])[0] for _ in range(pick.choice([0, 1, 2, 15, 16])))) for deed, _ in first[1]
+    )
+    return (cases, rows, tuple((name, pick.choice(shown_first(first))) for name in shown_first(second)))
+
+
+def variants(value):
+    """Values like this one, with one part of another kind, left out, twice, exchanged or changed."""
+    yield from [None, [], {}, ("nosuch",)]
+    if isinstance(value, (tuple, list)):
+        make = value.__class__
+        yield (list if make is tuple else tuple)(value)
+        for k, part in enumerate(value):
+            yield make([*value[:k], *value[k + 1:]])
+            yield make([*value[:k], part, *value[k:]])
+            for changed in variants(part):
+                yield make([*value[:k], changed, *value[k + 1:]])
+            if k:
+                yield make([*value[:k - 1], part, value[k - 1], *value[k + 1:]])
+    elif isinstance(value, dict):
+        for key in value:
+            yield {other: value[other] for other in value if other != key}
+            yield {**value, "nosuch": value[key]}
+            yield list(value.items())
+            for changed in variants(value[key]):
+                yield {**value, key: changed}
+    elif isinstance(value, bool):
+        yield from [not value, int(value)]
+    elif isinstance(value, int):
+        yield from [value + 1, -value - 1, value == 1, str(value), 10 ** 59]
+    elif isinstance(value, str):
+        yield from [value + "x", "", [value], (value,), lamp()]
+
+
+def grown(seed, desk, most=2):
+    """A right change from a desk to one that has alike standings, other names and one more deed."""
+    pick = random.Random(seed)
+    copies = {one: [one + mark for mark in "xy"[:pick.randint(1, most)]] for one in desk.standings}
+    if sum(len(some) for some in copies.values()) > 9:
+        copies = {one: some[:1] for one, some in copies.items()}
+    names = [one for some in copies.values() for one in some]
+    homes = {one: home for home, some in copies.items() for one in some}
+    pick.shuffle(names)
+    deeds = {
+        deed + "n": {one: pick.choice(copies[desk.lead(homes[one], [deed])]) for one in names} for deed in desk.deeds
+    }
+    if len(deeds) < 4:
+        # Copies of one standing, in all editions, have its first letter: "more" leads them alike.
+        swap = {one: pick.choice(names)[0] for one in sorted({name[0] for name in names})}
+        deeds["more"] = {one: pick.choice([name for name in names if name[0] == swap[one[0]]]) for one in names}
+    if len(deeds) < 4:
+        deeds["stay"] = {one: pick.choice(copies[homes[one]]) for one in names}
+    newer = Desk(names, deeds, {one: desk.sight(homes[one]) + "n" for one in names})
+    rows = {deed: [deed + "n"] + ["stay"] * pick.randint(0, 2 if "stay" in deeds else 0) for deed in desk.deeds}
+    return Change(
+        desk, newer, {one: pick.choice(copies[one]) for one in desk.standings}, rows,
+        {sight: sight[:-1] for sight in sights_of(newer)},
+    )
+
+
+def right_book(seed, editions):
+    """A right book of so many editions, the same for each seed."""
+    desks = [made_desk(seed, 2 + seed % 2, 1 + seed % 2, 2)]
+    changes = []
+    while len(desks) < editions:
+        changes.append(grown(seed + len(desks), desks[-1]))
+        desks.append(changes[-1].second)
+    return Book(desks, changes)
+
+
+def altered(change, places=None, rows=None, eyes=None):
+    """A change like another one, with some places, rows or eyes told anew."""
+    first, second = change.first, change.second
+    return Change(
+        first, second, {**{one: change.carried(one) for one in first.standings}, **(places or {})},
+        {**{deed: change.row(deed) for deed in first.deeds}, **(rows or {})},
+        {**{sight: change.eye(sight) for sight in sights_of(second)}, **(eyes or {})},
+    )
+
+
+def half_right_books(many):
+    """So many books of two or three editions, a little beside right ones in one change."""
+    for seed in range(many):
+        book = right_book(seed, 2 + seed % 2)
+        number = seed // 2 % book.last
+        pick = random.Random(seed)
+        change = book.changes[number]
+        sights = sights_of(change.second)
+        deed = pick.choice(change.first.deeds)
+        wrong = [
+            altered(change, rows={deed: []}),
+            altered(change, rows={deed: change.row(deed) + ["more" if "more" in change.second.deeds else deed + "n"]}),
+            altered(change, eyes={pick.choice(sights): pick.choice(sights_of(change.first))}),
+            altered(change, places={pick.choice(change.first.standings): pick.choice(change.second.standings)}),
+        ][seed % 4]
+        changes = list(book.changes)
+        changes[number] = wrong
+        yield Book(book.desks, changes)
+
+
+def plain_sight(book, place):
+    return book.desks[place[0]].sight(place[1])
+
+
+def plain_seen(book, place, edition):
+    """What the eyes of an edition see at a place, by the words of the document alone."""
+    number, standing = place
+    sight = book.desks[number].sight(standing)
+    while number > edition:
+        number -= 1
+        sight = book.changes[number].eye(sight)
+    return sight
+
+
+def plain_come(book):
+    """The dict from the places that can come to rows that lead the start there."""
+    rows = {book.start: []}
+    for place in (fresh := [book.start]):
+        for one in plain_inputs(book, place[0]):
+            target = plain_led(book, place, [one])
+            if target not in rows:
+                rows[target] = rows[place] + [one]
+                fresh.append(target)
+    return rows
+
+
+def plain_alike(book, one, other):
+    """Whether two places of one edition are alike for good, by all pairs that come of them."""
+    pairs = [(one, other)]
+    for one, other in pairs:
+        if plain_sight(book, one) != plain_sight(book, other):
+            return False
+        for label in plain_inputs(book, one[0]):
+            pair = (plain_led(book, one, [label]), plain_led(book, other, [label]))
+            if pair not in pairs:
+                pairs.append(pair)
+    return True
+
+
+def is_plain_row(book, edition, value):
+    """Whether any value is a list of inputs that places of an edition take; and where it leads."""
+    if value.__class__ is not list:
+        return None
+    for one in value:
+        kinds = (one.__class__, *[part.__class__ for part in one]) if one.__class__ is tuple else one.__class__
+        if kinds not in (str, (tuple, int, str)) or one not in plain_inputs(book, edition):
+            return None
+        edition += one == "carry"
+    return edition
+
+
+def made_map(seed, first, second):
+    pick = random.Random(seed)
+    return {one: pick.choice(second.standings) for one in first.standings}
+
+
+def desk_pairs(many):
+    """So many tuples (elder desk, newer desk, map), of at most four standings each, in some of which rows answer."""
+    for seed in range(many):
+        first = made_desk(seed, 1 + seed % 4, 1 + seed % 2, 2)
+        second = made_desk(seed + 300, 1 + seed // 2 % 4, 1 + seed // 3 % 3, 2)
+        if seed % 3 == 0 and len(first.standings) < 4:
+            change = grown(seed, first, 1)
+            yield first, change.second, {one: change.carried(one) for one in first.standings}
+        yield first, second, made_map(seed, first, second)
+
+
+def not_maps(first, second):
+    """Values that are no maps from a desk to another one, each a little beside one."""
+    right = {one: second.start for one in first.standings}
+    one = first.standings[-1]
+    return any_values() + [
+        {**right, "nosuch": second.start}, {**right, one: "nosuch"}, {**right, one: None}, {**right, one: [second.start]},
+        {other: right[other] for other in right if other != one}, list(right.items()), list(right), second.start, right.keys(),
+        {**right, 0: second.start}, {**{other: right[other] for other in right if other != one}, None: second.start},
+    ]
+
+
+def plain_alike_standings(desk, one, other):
+    """Whether two standings are alike, by all pairs that come of them."""
+    pairs = [(one, other)]
+    for one, other in pairs:
+        if desk.sight(one) != desk.sight(other):
+            return False
+        for deed in desk.deeds:
+            pair = (desk.lead(one, [deed]), desk.lead(other, [deed]))
+            if pair not in pairs:
+                pairs.append(pair)
+    return True

@@ -7,7 +7,8 @@ from lateeditions.errors import BadDeeds, BadProgram, BadSights, BadValues, TooM
 from lateeditions.programs import all_values, done, first_values, is_program, is_values, played, shown
 from lateeditions.smallest import desks_alike
 from support import (
-    LAMP, SWITCH, WORDS, any_values, check_shortest, lamp, letters, made_desk, made_program, not_programs, refused,
+    LAMP, SWITCH, WORDS, any_values, check_shortest, lamp, letters, made_desk, made_program, not_programs, plain_values,
+    refused,
 )
 
 
@@ -22,19 +23,6 @@ TWO = (
     (("right", ((None, (("x", ("+", "x", 1)),)),)), ("swap", ((None, (("x", "y"), ("y", "x"))),))),
     ((("is", "x", "y"), "same"), (None, "other")),
 )
-
-
-def plain_values(program, firsts):
-    """The values in the sequence of a compiled desk."""
-    found = []
-    for first in firsts:
-        fresh = [first]
-        while fresh:
-            values = fresh.pop(0)
-            if values not in found:
-                found.append(values)
-                fresh += [done(program, values, deed) for deed, _ in program[1]]
-    return found
 
 
 class CompiledTest(unittest.TestCase):

@@ -4,18 +4,9 @@ from lateeditions.books import Book, Change
 from lateeditions.desks import Desk
 from lateeditions.errors import BadEdition, BadInput, BadPlace
 from lateeditions.eyes import seen, seen_along
-from support import all_places, any_values, lamp, lamp_book, made_book, plain_led, refused, rows_from
+from support import all_places, any_values, lamp, lamp_book, made_book, plain_led, plain_seen, refused, rows_from
 
 BOOKS = [made_book(seed, 1 + seed % 3) for seed in range(24)]
-
-
-def plain_seen(book, place, edition):
-    number, standing = place
-    sight = book.desks[number].sight(standing)
-    while number > edition:
-        number -= 1
-        sight = book.changes[number].eye(sight)
-    return sight
 
 
 class SeenTest(unittest.TestCase):

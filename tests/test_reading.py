@@ -6,7 +6,8 @@ from lateeditions.errors import BadProgram, BadText
 from lateeditions.printing import format_change, format_program
 from lateeditions.reading import parse_change, parse_program
 from support import (
-    LAMP, SWITCH, TOLAMP, WORDS, any_values, made_cases, made_condition, made_program, not_programs, refused, sum_of,
+    LAMP, SWITCH, TOLAMP, WORDS, any_values, made_cases, made_condition, made_program, made_told_change,
+    not_programs, refused, sum_of,
 )
 
 HEAD = "register x 0 to 5 from 3\nregister y 0 to 8 from 2\n"
@@ -79,16 +80,8 @@ def loose_program(pick, program):
 
 def made_change(seed):
     """Two programs and a program of a change between them."""
-    pick = random.Random(seed)
     first, second = made_program(seed), made_program(seed + 500)
-    names = [[row[0] for row in program[0]] for program in (first, second)]
-    deeds = [row[0] for row in second[1]]
-    rows = tuple(
-        (deed, tuple(pick.choice(deeds) for _ in range(pick.choice([0, 1, 2, 15, 16])))) for deed, _ in first[1]
-    )
-    shown = list(dict.fromkeys(name for _, name in second[2]))
-    eyes = tuple((name, pick.choice([other for _, other in first[2]])) for name in shown)
-    return first, second, (made_cases(pick, names[0], names[1]), rows, eyes)
+    return first, second, made_told_change(seed, first, second)
 
 
 class Furthest:
