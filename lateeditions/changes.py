@@ -64,7 +64,7 @@ def deed_break(book, number):
     sights = place_sights(book)
     rows = come_rows(moves, book.start)
     breaks = []
-    for place in [place for place in rows if place[0] == number]:
+    for place in [met for met in rows if met[0] == number]:
         for deed in deeds_at(book, number):
             one, other = both_ways(moves, place, deed)
             if lots[one] != lots[other]:

@@ -5,8 +5,22 @@ import random
 
 from lateeditions.books import Book, Change
 from lateeditions.desks import Desk
-from lateeditions.errors import BadRow
+from lateeditions.errors import BadFence, BadRow
+from lateeditions.plans import Plan
 from lateeditions.programs import done
+
+
+KEPT = {}
+
+
+def kept(call):
+    """The call of a book and of what else can be a key; what it told once of this very book is told again."""
+    def told(book, *rest):
+        key = (call.__name__, id(book), *rest)
+        if key not in KEPT:
+            KEPT[key] = (book, call(book, *rest))
+        return KEPT[key][1]
+    return told
 
 
 def lamp():
@@ -248,7 +262,8 @@ def not_programs():
         True, 1, "level", "not", (), ("is", 1), ("is", 1, 1, 1), ["is", 1, 1], ("not", check, check), ("not",),
         ("and", check), ("or", check, 1), ("and", check, None), ("not", None), ("equals", 1, 1), ("is", check, 1),
         ("is",), ("below",), ("and",), ("or",), ("and", ("equals", 1, 1), check), ("or", check, ("nor", check)),
-        ("and", (), check), (None, 1, 1), ("below", 1, -1), ("is", 1, 100), ("is", "other", 1), deep(7, ("is", 1, 1), "and", check),
+        ("and", (), check), (None, 1, 1), ("below", 1, -1), ("is", 1, 100), ("is", "other", 1),
+        deep(7, ("is", 1, 1), "and", check),
         deep(6, check, "or", check), full(5, check, "and"), ("not", ("and", check, "level")), (["not"], check),
     ]:
         wrong.append((registers, (("up", ((condition, ()),)),), shows))
@@ -470,6 +485,7 @@ def plain_seen(book, place, edition):
     return sight
 
 
+@kept
 def plain_come(book):
     """The dict from the places that can come to rows that lead the start there."""
     rows = {book.start: []}
@@ -482,6 +498,7 @@ def plain_come(book):
     return rows
 
 
+@kept
 def plain_alike(book, one, other):
     """Whether two places of one edition are alike for good, by all pairs that come of them."""
     pairs = [(one, other)]
@@ -545,3 +562,197 @@ def plain_alike_standings(desk, one, other):
             if pair not in pairs:
                 pairs.append(pair)
     return True
+
+
+class Model:
+    """A shelf by the words of the document: all is counted anew from what was done and sent."""
+
+    def __init__(self, book, plan):
+        self.book, self.plan = book, plan
+        self.events, self.letters, self.failed, self.line, self.shelved = [], [], [], [], []
+        # Entries (key, number, deed), and ("carry",) for all keys.
+        self.was_done, self.was_due = [], []
+
+    def edition(self):
+        return self.was_due.count(("carry",))
+
+    def inputs(self, key, rows):
+        return ["carry" if row == ("carry",) else row[2] for row in rows if row == ("carry",) or row[0] == key]
+
+    def place(self, key):
+        return plain_led(self.book, self.book.start, self.inputs(key, self.was_done))
+
+    def due(self, key):
+        return plain_led(self.book, self.book.start, self.inputs(key, self.was_due))
+
+    def shown(self, key):
+        return (plain_sight(self.book, self.place(key)), plain_sight(self.book, self.due(key)))
+
+    def times(self, number):
+        return [row[1] for row in self.was_done if row != ("carry",)].count(number)
+
+    def under_way(self):
+        return sorted(self.line + self.shelved)
+
+    def taken(self, word):
+        if word == "replay":
+            return self.shelved[0] if self.shelved else None
+        for number in self.line:
+            keys = [self.letters[other][0] for other in self.shelved]
+            held = {"letter": False, "key": self.letters[number][0] in keys, "all": len(keys) > 0}[self.plan.way]
+            if not held:
+                return number
+        return None
+
+    def can(self, event):
+        """Of what is an event by its form."""
+        if event[0] == "send":
+            return event[2][0] <= self.edition()
+        if event[0] == "carry":
+            fenced = any(self.letters[number][1] in self.plan.fence for number in self.line + self.shelved)
+            return self.edition() < self.book.last and not fenced
+        return self.taken(event[0]) is not None
+
+    def is_left_out(self, number):
+        key = self.letters[number][0]
+        mine = [row[1] for row in self.was_done if row[0] == key]
+        if self.plan.stamp and any(other >= number for other in mine):
+            return True
+        if self.plan.window is None or number not in mine:
+            return False
+        since = mine[::-1].index(number)
+        return self.plan.window == "ever" or since < self.plan.window
+
+    def do(self, event):
+        self.events.append(event)
+        if event[0] == "send":
+            number = len(self.letters)
+            self.letters.append(event[1:])
+            self.failed.append(0)
+            self.line.append(number)
+            self.was_due.append((event[1], number, event[2]))
+            return ("sent", number)
+        if event[0] == "carry":
+            self.was_done.append(event)
+            self.was_due.append(event)
+            return ("carried", self.edition())
+        number = self.taken(event[0])
+        if event[1] == "fails":
+            self.failed[number] += event[0] == "work"
+            if event[0] == "replay" or self.failed[number] < self.plan.tries:
+                return ("failed", number, "stays")
+            self.line = [other for other in self.line if other != number]
+            self.shelved = self.shelved + [number]
+            return ("failed", number, "shelved")
+        left = self.is_left_out(number)
+        if not left:
+            self.was_done.append((self.letters[number][0], number, self.letters[number][1]))
+        if event[1] == "done":
+            self.line = [other for other in self.line if other != number]
+            self.shelved = [other for other in self.shelved if other != number]
+        return ("played", number, "left" if left else "done", event[1] == "done")
+
+
+def all_events(book, keys):
+    """All that is an event by its form, with these keys."""
+    sends = [
+        ("send", key, (number, deed))
+        for key in keys for number, desk in enumerate(book.desks) for deed in desk.deeds
+    ]
+    return sends + [(word, how) for word in ("work", "replay") for how in ("done", "stops", "fails")] + [("carry",)]
+
+
+def random_events(pick, book, plan, many, keys=("k", "ab")):
+    """A row of so many possible events, with its model."""
+    model = Model(book, plan)
+    while len(model.events) < many:
+        events = [event for event in all_events(book, keys) if model.can(event)]
+        words = sorted({event[0] for event in events})
+        weights = [{"send": 3, "work": 4, "replay": 2, "carry": 1}[word] for word in words]
+        (word,) = pick.choices(words, weights)
+        model.do(pick.choice([event for event in events if event[0] == word]))
+    return model
+
+
+def all_deeds(book):
+    return [(number, deed) for number, desk in enumerate(book.desks) for deed in desk.deeds]
+
+
+def made_plan(pick, book):
+    fence = [deed for deed in sorted(all_deeds(book)) if pick.random() < 0.2]
+    return Plan(
+        pick.choice(["letter", "key", "all"]), tries=pick.randint(1, 3), window=pick.choice([None, 1, 2, 3, 12, "ever"]),
+        stamp=pick.random() < 0.3, fence=fence,
+    )
+
+
+def all_plans(fences=((),)):
+    """Plans of each way, window and stamp, with these fences."""
+    for way in ("letter", "key", "all"):
+        for window in (None, 1, 2, 3, 12, "ever"):
+            for stamp in (False, True):
+                for fence in fences:
+                    yield Plan(way, window=window, stamp=stamp, fence=fence)
+
+
+def check_bad_fences(test, book, call):
+    """Holds that call(book, plan) refuses the first deed of a fence that is none of the book's."""
+    for fence, bad in [
+        ([(0, "nosuch")], (0, "nosuch")), ([(book.last + 1, book.desks[0].deeds[0])], (book.last + 1, book.desks[0].deeds[0])),
+        (sorted(all_deeds(book)) + [(7, "a"), (7, "b")], (7, "a")), ([(0, "a"), (0, "b"), (9, "c")], (0, "a")),
+        ([(10 ** 59, "x")], (10 ** 59, "x")),
+    ]:
+        refused(test, BadFence, bad, call, book, Plan("key", fence=fence))
+
+
+def ring(many=9, editions=1):
+    """A book whose first deed counts all that was done, round and round."""
+    names = letters(many)
+    steps = dict(zip(names, names[1:] + names[:1]))
+    desk = Desk(names, {"go": steps, "stay": {name: name for name in names}}, {name: name for name in names})
+    change = Change(desk, desk, {name: name for name in names}, {"go": ["go"], "stay": []}, {name: name for name in names})
+    return Book([desk] * editions, [change] * (editions - 1))
+
+
+@kept
+def plain_step(book, place, one):
+    return plain_led(book, place, [one])
+
+
+@kept
+def plain_late(book, one, other, many, fenced):
+    """Whether some row with so many deeds, and carries unless they are fenced, parts two places for good."""
+    layer = [(one, other)]
+    for left in range(many, -1, -1):
+        for pair in [] if fenced else layer:
+            if pair[0][0] < book.last:
+                carried = tuple(plain_step(book, place, "carry") for place in pair)
+                if carried not in layer:
+                    layer.append(carried)
+        if left:
+            layer = list(dict.fromkeys(
+                tuple(plain_step(book, place, deed) for place in pair)
+                for pair in layer for deed in plain_inputs(book, pair[0][0]) if deed != "carry"
+            ))
+    return not all(plain_alike(book, *pair) for pair in layer)
+
+
+def parts_them(book, place, one, other):
+    """Whether another sight is seen behind two rows from a place."""
+    return plain_sight(book, plain_led(book, place, one)) != plain_sight(book, plain_led(book, place, other))
+
+
+def is_between(book, place, value, many, fenced):
+    """Whether a value is a row of inputs with so many deeds, and no carry if these are fenced."""
+    if is_plain_row(book, place[0], value) is None:
+        return False
+    carries = value.count("carry")
+    return len(value) - carries == many and not (fenced and carries)
+
+
+def forgetting():
+    """A book whose deeds of edition 0 forget what was done twice; behind a carry nothing is forgotten."""
+    first = Desk(["a", "b", "c"], {"go": {"a": "b", "b": "c", "c": "c"}}, {"a": "s", "b": "s", "c": "t"})
+    second = Desk(["d", "e"], {"run": {"d": "d", "e": "e"}}, {"d": "s", "e": "t"})
+    change = Change(first, second, {"a": "d", "b": "d", "c": "e"}, {"go": []}, {"s": "s", "t": "s"})
+    return Book([first, second], [change])

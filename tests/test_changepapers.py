@@ -6,8 +6,8 @@ from lateeditions.changes import deed_break, eyes_break, is_deed_break, is_eyes_
 from lateeditions.desks import Desk
 from lateeditions.machines import book_come, book_lots
 from support import (
-    all_places, altered, any_values, half_right_books, lamp, lamp_book, made_book, plain_alike, plain_come, plain_inputs,
-    plain_led, plain_seen, plain_sight, right_book, variants,
+    all_places, altered, any_values, half_right_books, lamp, lamp_book, made_book, plain_alike, plain_come,
+    plain_inputs, plain_led, plain_seen, plain_sight, right_book, variants,
 )
 
 RIGHT = [right_book(seed, 1 + seed % 3) for seed in range(18)]

@@ -236,7 +236,8 @@ class DeedBreakTest(unittest.TestCase):
             second = Desk(list(walk), {"run": walk}, shows)
             near = "yxwvu"[steps]
             change = Change(
-                first, second, {"a": "o", "b": near, "c": near, "d": near, "e": "z"}, {"go": [], "hit": []}, {"s": "s", "t": "s"},
+                first, second, {"a": "o", "b": near, "c": near, "d": near, "e": "z"}, {"go": [], "hit": []},
+                {"s": "s", "t": "s"},
             )
             book = Book([first, second], [change])
             told = deed_break(book, 0)
@@ -258,17 +259,21 @@ class DeedBreakTest(unittest.TestCase):
 
     def test_breaks_need_not_be_least(self):
         book = Book([lamp(), lamp()], [altered(Change(
-            lamp(), lamp(), {"off": "off", "on": "on"}, {"press": ["press"], "cut": ["cut"]}, {"dark": "dark", "light": "light"},
+            lamp(), lamp(), {"off": "off", "on": "on"}, {"press": ["press"], "cut": ["cut"]},
+            {"dark": "dark", "light": "light"},
         ), rows={"cut": []})])
         press, cut = (0, "press"), (0, "cut")
         self.assertEqual(deed_break(book, 0), ([press], cut, []))
         for value, expected in [
             (([press] * 3, cut, []), True), (([press], cut, [(1, "press")]), True), (([press], cut, [(1, "cut")]), False),
-            (([], cut, []), False), (([press], press, []), False), (([press, "carry"], cut, []), False), (([press], cut, [cut]), True),
+            (([], cut, []), False), (([press], press, []), False), (([press, "carry"], cut, []), False),
+            (([press], cut, [cut]), True),
             (([press], cut, ["carry"]), False), (([press], (1, "press"), []), False), (([press], "carry", []), False),
             (([press], (False, "cut"), []), False), (((press,), cut, []), False), (([press], cut, ()), False),
-            (([press], list(cut), []), False), ([[press], cut, []], False), (([press], cut), False), (([press], cut, [], []), False),
-            (([(1, "press")], cut, []), False), (([press], cut, [(2, "press")]), False), (([press] * 2001, cut, [press] * 2000), True),
+            (([press], list(cut), []), False), ([[press], cut, []], False), (([press], cut), False),
+            (([press], cut, [], []), False),
+            (([(1, "press")], cut, []), False), (([press], cut, [(2, "press")]), False),
+            (([press] * 2001, cut, [press] * 2000), True),
         ]:
             self.assertIs(is_deed_break(book, 0, value), expected, value)
 

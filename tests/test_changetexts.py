@@ -8,8 +8,8 @@ from lateeditions.errors import BadBook, BadChange, BadEye, BadInput, BadProgram
 from lateeditions.machines import led
 from lateeditions.programs import all_values, first_values, is_program, is_values, played, shown
 from support import (
-    LAMP, SWITCH, TOLAMP, any_values, deep, full, lamp_book, made_program, made_told_change, not_programs, plain_values,
-    refused, rows_from, shown_first, variants,
+    LAMP, SWITCH, TOLAMP, any_values, deep, full, lamp_book, made_program, made_told_change, not_programs,
+    plain_values, refused, rows_from, shown_first, variants,
 )
 
 
@@ -125,7 +125,8 @@ class IsChangeTest(unittest.TestCase):
             (None, (("level", "on"),), True), (None, (("level", "level"),), False), (None, (("on", 1),), False),
             (None, (("level", 99),), True), (None, (("level", 100),), False), (None, (("level", -1),), False),
             (None, (("level", True),), False), (None, (("level", 1), ("level", 1)), False),
-            (deep(6, ("is", "on", 1), "and", ("is", 1, 1)), (), False), (deep(5, ("is", "on", 1), "or", ("is", 1, 1)), (), True),
+            (deep(6, ("is", "on", 1), "and", ("is", 1, 1)), (), False),
+            (deep(5, ("is", "on", 1), "or", ("is", 1, 1)), (), True),
             (None, (("level", deep(6, "on", "+", 1)),), True), (None, (("level", deep(7, "on", "+", 1)),), False),
             (None, (("level", full(4, "on", "-")),), True), (None, (("level", full(5, "on", "-")),), False),
         ]:
@@ -148,7 +149,8 @@ class IsChangeTest(unittest.TestCase):
             ((("set", ()), ("clear", downs)), False), ((("clear", ()), ("set", ())), False), ((("set", ()),), False),
             ((("set", ()), ("set", ())), False), ((("set", ()), ("clear", ()), ("clear", ())), False),
             ((("set", ("set",)), ("clear", ())), False), ((("set", ["up"]), ("clear", ())), False),
-            ((["set", ()], ("clear", ())), False), ([("set", ()), ("clear", ())], False), ((("set", "up"), ("clear", ())), False),
+            ((["set", ()], ("clear", ())), False), ([("set", ()), ("clear", ())], False),
+            ((("set", "up"), ("clear", ())), False),
             ((("up", ()), ("down", ())), False), ((("set", (), ()), ("clear", ())), False), ((), False),
         ]:
             self.assertIs(is_change(SWITCH, LAMP, (TOLAMP[0], rows, TOLAMP[2])), expected, rows)

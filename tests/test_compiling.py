@@ -7,8 +7,8 @@ from lateeditions.errors import BadDeeds, BadProgram, BadSights, BadValues, TooM
 from lateeditions.programs import all_values, done, first_values, is_program, is_values, played, shown
 from lateeditions.smallest import desks_alike
 from support import (
-    LAMP, SWITCH, WORDS, any_values, check_shortest, lamp, letters, made_desk, made_program, not_programs, plain_values,
-    refused,
+    LAMP, SWITCH, WORDS, any_values, check_shortest, lamp, letters, made_desk, made_program, not_programs,
+    plain_values, refused,
 )
 
 

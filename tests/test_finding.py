@@ -5,7 +5,8 @@ from lateeditions.errors import BadDeed, BadMap
 from lateeditions.finding import closed_lot, is_answer, is_closed_lot, row_for, rows_for, unanswered
 from lateeditions.vectors import goal_of, vector_of
 from support import (
-    any_values, check_shortest, desk_pairs, dim, lamp, not_maps, plain_alike_standings, refused, rows_up_to, three, variants,
+    any_values, check_shortest, desk_pairs, dim, lamp, not_maps, plain_alike_standings, refused, rows_up_to, three,
+    variants,
 )
 
 ELDER = Desk(["off", "on"], {"press": {"off": "on", "on": "off"}}, {"off": "dark", "on": "light"})

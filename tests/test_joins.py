@@ -8,8 +8,8 @@ from lateeditions.errors import BadLink, BadNumber, TooLong
 from lateeditions.joins import joined, joined_table, plain_change, without_middle
 from lateeditions.machines import book_lots
 from support import (
-    altered, dim, grow, lamp, lamp_book, letters, made_book, made_change, made_desk, plain_led, refused, right_book, sights_of,
-    three,
+    altered, dim, grow, lamp, lamp_book, letters, made_book, made_change, made_desk, plain_led, refused, right_book,
+    sights_of, three,
 )
 
 

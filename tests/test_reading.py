@@ -6,8 +6,8 @@ from lateeditions.errors import BadProgram, BadText
 from lateeditions.printing import format_change, format_program
 from lateeditions.reading import parse_change, parse_program
 from support import (
-    LAMP, SWITCH, TOLAMP, WORDS, any_values, made_cases, made_condition, made_program, made_told_change,
-    not_programs, refused, sum_of,
+    LAMP, SWITCH, TOLAMP, WORDS, any_values, made_condition, made_program, made_told_change, not_programs, refused,
+    sum_of,
 )
 
 HEAD = "register x 0 to 5 from 3\nregister y 0 to 8 from 2\n"

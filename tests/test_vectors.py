@@ -5,7 +5,8 @@ from lateeditions.desks import Desk
 from lateeditions.errors import BadDeed, BadMap, BadRow, BadVector
 from lateeditions.vectors import goal_of, led_vector, vector_of, vectors_alike
 from support import (
-    any_values, desk_pairs, dim, lamp, letters, made_desk, not_maps, plain_alike_standings, refused, rows_up_to, three,
+    any_values, desk_pairs, dim, lamp, letters, made_desk, not_maps, plain_alike_standings, refused, rows_up_to,
+    three,
 )
 
 STAY = Desk(["c", "a", "d", "b"], {"go": {"a": "b", "b": "c", "c": "b", "d": "d"}}, {one: "s" for one in "abcd"})
