@@ -23,18 +23,17 @@ def played_leads(first, second, rows):
     return {deed: {one: second.lead(one, rows[deed]) for one in second.standings} for deed in first.deeds}
 
 
-def pair_rows(first, second, rows, begin):
-    """The dict from pairs of standings to shortest rows of elder deeds that lead there.
+def pair_rows(first, second, rows, pair):
+    """The dict from pairs of standings to shortest rows of elder deeds that lead a pair there.
 
-    The first one of a pair is where the row leads the elder start, the second one is where it
-    leads the begin, when it is played.
+    The first one of a pair is led by the deeds, the second one by the rows by which they are played.
     """
     leads = played_leads(first, second, rows)
 
-    def led_pairs(pair):
-        return [(deed, (first.lead(pair[0], [deed]), leads[deed][pair[1]])) for deed in first.deeds]
+    def led_pairs(one):
+        return [(deed, (first.lead(one[0], [deed]), leads[deed][one[1]])) for deed in first.deeds]
 
-    return shortest_rows((first.start, begin), led_pairs)
+    return shortest_rows(pair, led_pairs)
 
 
 def forced_map(first, second, rows, begin):
@@ -42,7 +41,7 @@ def forced_map(first, second, rows, begin):
     if quarrel(first, second, rows, begin) is not None:
         return None
     places = {standing: second.start for standing in first.standings}
-    for one, other in pair_rows(first, second, rows, begin):
+    for one, other in pair_rows(first, second, rows, (first.start, begin)):
         places[one] = other
     return places
 
@@ -67,7 +66,7 @@ def quarrel(first, second, rows, begin):
     check_rows(first, second, rows)
     check_begin(second, begin)
     numbers = desk_lots(second)
-    told = pair_rows(first, second, rows, begin)
+    told = pair_rows(first, second, rows, (first.start, begin))
     for pair in told:
         for other in told:
             if pair[0] == other[0] and numbers[pair[1]] != numbers[other[1]]:

@@ -756,3 +756,172 @@ def forgetting():
     second = Desk(["d", "e"], {"run": {"d": "d", "e": "e"}}, {"d": "s", "e": "t"})
     change = Change(first, second, {"a": "d", "b": "d", "c": "e"}, {"go": []}, {"s": "s", "t": "s"})
     return Book([first, second], [change])
+
+
+def capped(many):
+    """A book whose first deed counts up to a top; what was counted is seen behind the carry alone."""
+    names = letters(many)
+    go = dict(zip(names, names[1:] + names[-1:]))
+    first = Desk(names, {"go": go}, {name: "s" for name in names})
+    second = Desk(names, {"go": go, "stay": {name: name for name in names}}, {name: name for name in names})
+    return Book([first, second], [Change(first, second, {name: name for name in names}, {"go": ["go"]}, {name: "s" for name in names})])
+
+
+def setters():
+    """A book of one desk whose deeds may be done again, but do not change places."""
+    leads = {deed: {name: deed for name in ("a", "b")} for deed in ("a", "b")}
+    return Book([Desk(["a", "b"], leads, {"a": "s", "b": "t"})], [])
+
+
+def new_names(names):
+    """The dict from names to others, which ascend the other way."""
+    return {name: "zyxwvutsrq"[k] * (1 + k % 3) for k, name in enumerate(sorted(names))}
+
+
+def renamed(book):
+    """The book with other names everywhere, and the dict from its deeds to those of that one."""
+    desks, changes = [], []
+    places = [new_names(desk.standings) for desk in book.desks]
+    deeds = [new_names(desk.deeds) for desk in book.desks]
+    sights = [new_names(sights_of(desk)) for desk in book.desks]
+    for k, desk in enumerate(book.desks):
+        desks.append(Desk(
+            [places[k][one] for one in desk.standings],
+            {deeds[k][deed]: {places[k][one]: places[k][desk.lead(one, [deed])] for one in desk.standings} for deed in desk.deeds},
+            {places[k][one]: sights[k][desk.sight(one)] for one in desk.standings},
+        ))
+    for k, change in enumerate(book.changes):
+        changes.append(Change(
+            desks[k], desks[k + 1], {places[k][one]: places[k + 1][change.carried(one)] for one in book.desks[k].standings},
+            {deeds[k][deed]: [deeds[k + 1][newer] for newer in change.row(deed)] for deed in book.desks[k].deeds},
+            {sights[k + 1][sight]: sights[k][change.eye(sight)] for sight in sights[k + 1]},
+        ))
+    return Book(desks, changes), {(k, deed): (k, deeds[k][deed]) for k, deed in all_deeds(book)}
+
+
+def same_but(plan, **more):
+    """A plan like another one, with some things told anew."""
+    told = {"tries": plan.tries, "window": plan.window, "stamp": plan.stamp, "fence": plan.fence, **more}
+    return Plan(told.pop("way", plan.way), **told)
+
+
+def twins():
+    """A book of two editions, the newer one with two standings that are alike."""
+    first = Desk(["off", "on"], {"set": {"off": "on", "on": "on"}}, {"off": "dark", "on": "light"})
+    second = Desk(
+        ["off", "on", "lit"], {"set": {"off": "on", "on": "on", "lit": "lit"}}, {"off": "dark", "on": "light", "lit": "light"},
+    )
+    return Book([first, second], [Change(first, second, {"off": "off", "on": "lit"}, {"set": ["set"]}, {"dark": "dark", "light": "light"})])
+
+
+def told_changes(many):
+    """So many changes between desks of at most five standings, some of them right, some that forget."""
+    for seed in range(many):
+        first = made_desk(seed, 1 + seed % 5, 1 + seed % 2, 2 + seed % 2)
+        if seed % 3 == 0 and len(first.standings) < 5:
+            yield grown(seed, first, 1)
+        else:
+            yield made_change(seed, first, made_desk(seed + 500, 1 + seed // 2 % 4, 1 + seed % 3, 2))
+
+
+def flipping():
+    """A change that turns two standings into two others, by name."""
+    elder = Desk(["off", "on"], {"press": {"off": "on", "on": "off"}}, {"off": "dark", "on": "light"})
+    pair = Desk(["a", "b"], {"flip": {"a": "b", "b": "a"}, "fix": {"a": "b", "b": "b"}}, {"a": "dark", "b": "light"})
+    return Change(elder, pair, {"off": "a", "on": "b"}, {"press": ["flip"]}, {"dark": "dark", "light": "light"})
+
+
+def forgetful():
+    """A change that carries three standings, of which no two are alike, to one."""
+    wheel = Desk(["x", "y", "z"], {"go": {"x": "y", "y": "z", "z": "x"}}, {"x": "p", "y": "q", "z": "p"})
+    dot = Desk(["w"], {"nod": {"w": "w"}}, {"w": "p"})
+    return Change(wheel, dot, {"x": "w", "y": "w", "z": "w"}, {"go": ["nod"]}, {"p": "p"})
+
+
+def fading():
+    """A change that loses nothing at once, and all behind its first deed."""
+    first = Desk(["a", "b", "c"], {"go": {"a": "b", "b": "c", "c": "a"}}, {"a": "p", "b": "q", "c": "r"})
+    second = Desk(["d", "e", "f"], {"sink": {"d": "d", "e": "d", "f": "d"}}, {"d": "p", "e": "q", "f": "r"})
+    same = {"p": "p", "q": "q", "r": "r"}
+    return Change(first, second, {"a": "d", "b": "e", "c": "f"}, {"go": ["sink"]}, same)
+
+
+def merging():
+    """A change of a line of standings, two of which are carried to one from where different ones come."""
+    first = Desk(
+        ["a", "b", "c", "d", "e"],
+        {"go": {"a": "b", "b": "c", "c": "d", "d": "e", "e": "e"}, "hop": {"a": "c", "b": "c", "c": "a", "d": "e", "e": "e"}},
+        {"a": "p", "b": "q", "c": "p", "d": "q", "e": "r"},
+    )
+    second = Desk(
+        ["f", "g", "h"], {"run": {"f": "g", "g": "h", "h": "h"}, "rest": {"f": "f", "g": "g", "h": "h"}},
+        {"f": "p", "g": "q", "h": "r"},
+    )
+    places = {"a": "f", "b": "g", "c": "f", "d": "g", "e": "h"}
+    return Change(first, second, places, {"go": ["run"], "hop": ["rest"]}, {"p": "p", "q": "q", "r": "r"})
+
+
+def plain_pairs(change, standing):
+    """All pairs that come of a standing and the carried one, when deeds are played by rows."""
+    first, second = change.first, change.second
+    pairs = [(standing, change.carried(standing))]
+    for one, other in pairs:
+        for deed in first.deeds:
+            pair = (first.lead(one, [deed]), second.lead(other, change.row(deed)))
+            if pair not in pairs:
+                pairs.append(pair)
+    return pairs
+
+
+def lasting_change(seed):
+    """A change of four or five standings each of whose deeds is played by one deed, the same for each seed."""
+    pick = random.Random(seed)
+    names = letters(pick.randint(4, 5))
+    others = letters(pick.randint(3, 7))
+    deeds = ["go", "hop"][:pick.randint(1, 2)]
+    leads = {}
+    for deed in deeds:
+        targets = pick.sample(names, len(names)) if pick.random() < 0.6 else [pick.choice(names) for _ in names]
+        leads[deed] = dict(zip(names, targets))
+    first = Desk(names, leads, {one: pick.choice("pqr") for one in names})
+    second = Desk(others, {deed: {one: pick.choice(others) for one in others} for deed in deeds}, {one: "p" for one in others})
+    return Change(
+        first, second, {one: pick.choice(others) for one in names}, {deed: [deed] for deed in deeds},
+        {"p": first.sight(names[0])},
+    )
+
+
+def resting():
+    """A book of one desk, of whose standings the last two are alike, one reached behind the other."""
+    go = {"a": "b", "b": "c", "c": "c"}
+    return Book([Desk(["a", "b", "c"], {"go": go}, {"a": "s", "b": "t", "c": "t"})], [])
+
+
+def split():
+    """A book in which a deed, done twice ahead of the carry, leads to other standings than behind it, alike to those."""
+    first = resting().desks[0]
+    names = ["a", "b", "c", "d", "e"]
+    second = Desk(
+        names, {"go": {"a": "d", "b": "c", "c": "c", "d": "e", "e": "e"}, "stay": {name: name for name in names}},
+        {"a": "s", "b": "t", "c": "t", "d": "t", "e": "t"},
+    )
+    return Book([first, second], [Change(first, second, {"a": "a", "b": "b", "c": "c"}, {"go": ["go"]}, {"s": "s", "t": "t"})])
+
+
+def slow(*tops):
+    """A book of as many editions, in which x, done again, is seen until enough was done in each of them.
+
+    A standing tells whether x was done, and how often y was, till it was done once more than the top, or x twice.
+    Carried, what was done of y is lost.
+    """
+    desks, changes = [], []
+    for top in tops:
+        names = ["n" + "abcd"[k] for k in range(top + 1)] + ["x" + "abcd"[k] for k in range(top + 1)] + ["t"]
+        last = {"n" + "abcd"[top], "x" + "abcd"[top], "t"}
+        more = {name: "t" if name in last else names[names.index(name) + 1] for name in names}
+        once = {name: "x" + name[1:] if name[0] == "n" else "t" for name in names}
+        desks.append(Desk(names, {"x": once, "y": more}, {name: "u" if name == "t" else "s" for name in names}))
+    for first, second in zip(desks, desks[1:]):
+        places = {name: "t" if name == "t" else name[0] + "a" for name in first.standings}
+        changes.append(Change(first, second, places, {"x": ["x"], "y": ["y"]}, {"s": "s", "u": "u"}))
+    return Book(desks, changes)

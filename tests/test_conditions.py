@@ -6,103 +6,20 @@ from lateeditions.conditions import failing, is_failing, is_sound, late_row
 from lateeditions.desks import Desk
 from lateeditions.errors import BadDeed, BadFence, BadNumber, BadPlace
 from lateeditions.plans import Plan
+from plainly import KINDS, asked, come_of, deeds_of, fails, fences_of, is_plain_failing, plain_failing
 from support import (
-    all_deeds, all_places, all_plans, any_values, check_bad_fences, forgetting, half_right_books, is_between,
-    is_plain_row, lamp, lamp_book, made_book, plain_alike, plain_come, plain_inputs, plain_late, plain_led, refused,
-    right_book, ring, rows_from, variants,
+    all_places, all_plans, any_values, check_bad_fences, forgetting, half_right_books, is_between, lamp, lamp_book,
+    made_book, plain_alike, plain_late, plain_led, refused, right_book, ring, rows_from, variants,
 )
 
 BOOKS = [made_book(3, 1), made_book(4, 2), made_book(7, 2), right_book(2, 1), right_book(4, 2), right_book(9, 3), made_book(5, 3)]
 BOOKS += [lamp_book(), ring(3, 1), forgetting(), *half_right_books(2)]
 PRESS, CUT, UP, DOWN = (0, "press"), (0, "cut"), (1, "up"), (1, "down")
-WORDS = ["carry", "twice", "swap", "late", "drop"]
-
-
-def deeds_of(book, edition):
-    return [one for one in plain_inputs(book, edition) if one != "carry"]
-
-
-def come_of(book):
-    return [place for place in all_places(book) if place in plain_come(book)]
-
-
-def fences_of(book):
-    deeds = sorted(all_deeds(book))
-    return [(), tuple(deeds[:1]), tuple(deeds[1::2]), tuple(deeds)]
-
-
-def late_deeds(plan):
-    return plan.window or 0
-
-
-def asks(plan, word):
-    return {
-        "carry": True,
-        "twice": plan.way in ("key", "all") and plan.window is None and not plan.stamp,
-        "swap": plan.way == "letter" and not plan.stamp,
-        "late": plan.way == "letter" and not plan.stamp and plan.window != "ever",
-        "drop": plan.way == "letter" and plan.stamp,
-    }[word]
-
-
-def asked(book, plan):
-    """All instances that a plan asks, of the late ones what stands ahead of their rows."""
-    for word in [word for word in WORDS if asks(plan, word)]:
-        for place in come_of(book):
-            deeds = deeds_of(book, place[0])
-            for k, one in enumerate(deeds):
-                if word == "carry" and (place[0] == book.last or one in plan.fence):
-                    continue
-                others = {"swap": deeds[k + 1:], "drop": deeds}.get(word)
-                yield from [(word, place, one)] if others is None else [(word, place, one, other) for other in others]
-
-
-def fails(book, instance):
-    word, place, one = instance[:3]
-    other = instance[3:]
-    rows = {
-        "carry": ([one, "carry"], ["carry", one]), "twice": ([one, one], [one]), "swap": ([one, *other], [*other, one]),
-        "drop": ([one, *other], [*other]),
-    }[word]
-    return not plain_alike(book, *[plain_led(book, place, row) for row in rows])
-
-
-def plain_failing(book, plan):
-    found = []
-    for instance in asked(book, plan):
-        word, place, one = instance[:3]
-        if word == "late":
-            pair = [plain_led(book, place, [one, one]), plain_led(book, place, [one])]
-            if plain_late(book, *pair, late_deeds(plan), one in plan.fence):
-                found.append(instance)
-        elif fails(book, instance):
-            found.append(instance)
-    return found
-
-
-def is_plain_failing(book, plan, value):
-    if value.__class__ is not tuple or not 3 <= len(value) <= 4 or value[0].__class__ is not str:
-        return False
-    word, place, one = value[:3]
-    if word not in WORDS or not asks(plan, word):
-        return False
-    if place.__class__ is not tuple or [part.__class__ for part in place] != [int, str] or place not in come_of(book):
-        return False
-    if is_plain_row(book, place[0], [one]) is None or one == "carry":
-        return False
-    if word == "late":
-        if len(value) != 4 or not is_between(book, place, value[3], late_deeds(plan), one in plan.fence):
-            return False
-        behind = [plain_led(book, place, row + value[3]) for row in ([one, one], [one])]
-        return not plain_alike(book, *behind)
-    if len(value) == 4 and is_plain_row(book, place[0], [value[3]]) is None:
-        return False
-    return value in list(asked(book, plan)) and fails(book, value)
 
 
 class FailingTest(unittest.TestCase):
     def test_plans_of_all_sorts(self):
-        met = {word: 0 for word in WORDS}
+        met = {word: 0 for word in KINDS}
         sound = []
         for book in BOOKS:
             for plan in all_plans(fences_of(book)[:3] if book.last < 2 else fences_of(book)[2:3]):
@@ -115,7 +32,7 @@ class FailingTest(unittest.TestCase):
                         self.assertTrue(is_plain_failing(book, plan, one), one)
                 self.assertIs(is_sound(book, plan), told == [])
                 sound.append(told == [])
-        for word in WORDS:
+        for word in KINDS:
             self.assertGreater(met[word], 100, word)
         self.assertGreater(min(sound.count(True), sound.count(False)), 40)
 
@@ -126,7 +43,7 @@ class FailingTest(unittest.TestCase):
 
     def test_sequence(self):
         told = failing(lamp_book(), Plan("letter", window=1, fence=[CUT]))
-        self.assertEqual([WORDS.index(one[0]) for one in told], sorted(WORDS.index(one[0]) for one in told))
+        self.assertEqual([KINDS.index(one[0]) for one in told], sorted(KINDS.index(one[0]) for one in told))
         for word in ("carry", "swap", "late"):
             places = [one[1] for one in told if one[0] == word]
             self.assertEqual(places, sorted(places, key=all_places(lamp_book()).index))
@@ -202,7 +119,7 @@ class IsFailingTest(unittest.TestCase):
         for book in (BOOKS[1], BOOKS[4], lamp_book()):
             for plan in [Plan("letter", window=1), Plan("letter", stamp=True), Plan("key")]:
                 told = failing(book, plan)
-                for word in WORDS:
+                for word in KINDS:
                     for one in [one for one in told if one[0] == word][:2]:
                         for value in list(variants(one)) + [one + (None,), one[:3] + (one[-1],), list(one)]:
                             expected = is_plain_failing(book, plan, value)
@@ -226,11 +143,11 @@ class IsFailingTest(unittest.TestCase):
 
     def test_any_values(self):
         for plan in (Plan("letter"), Plan("key"), Plan("letter", stamp=True)):
-            for value in any_values() + WORDS + [(word,) for word in WORDS]:
+            for value in any_values() + KINDS + [(word,) for word in KINDS]:
                 self.assertIs(is_failing(lamp_book(), plan, value), False)
                 for right in [("carry", (0, "on"), PRESS), ("drop", (0, "on"), PRESS, PRESS), ("late", (0, "on"), PRESS, [])]:
                     for k in range(len(right)):
-                        if value != right[k] and (k or value not in WORDS):
+                        if value != right[k] and (k or value not in KINDS):
                             changed = right[:k] + (value,) + right[k + 1:]
                             self.assertIs(is_failing(lamp_book(), plan, changed), False, changed)
 

@@ -6,48 +6,15 @@ from lateeditions.desks import Desk
 from lateeditions.errors import BadFence, BadName, NotNow
 from lateeditions.outcomes import cut_to, done_and_due, one_key, outcome
 from lateeditions.plans import Plan
+from plainly import plain_outcome, settled
 from support import (
-    Model, all_events, any_values, check_bad_fences, lamp_book, made_book, made_plan, plain_led, random_events,
-    refused, right_book, ring,
+    Model, any_values, check_bad_fences, lamp_book, made_book, made_plan, plain_led, random_events, refused,
+    right_book, ring,
 )
 
 PRESS, CUT = (0, "press"), (0, "cut")
 LATE = [("send", "k", PRESS), ("work", "fails"), ("send", "k", CUT), ("work", "done"), ("replay", "done")]
 WORDS = ("send", "work", "replay", "carry")
-
-
-def is_form(book, value):
-    """Whether a value is an event by its form."""
-    if value.__class__ is not tuple or not value or value[0].__class__ is not str:
-        return False
-    if value[0] == "send":
-        if len(value) != 3 or value[1].__class__ is not str or value[2].__class__ is not tuple or len(value[2]) != 2:
-            return False
-        if [part.__class__ for part in value[2]] != [int, str]:
-            return False
-        return value in all_events(book, [value[1]]) and value[1].isalpha() and value[1].islower() and len(value[1]) < 9
-    return value in all_events(book, [])
-
-
-def plain_outcome(book, plan, events):
-    model = Model(book, plan)
-    for position, event in enumerate(events):
-        if not is_form(book, event) or not model.can(event):
-            return ("impossible", position)
-        model.do(event)
-    if model.under_way():
-        return ("busy", tuple(model.under_way()))
-    keys = sorted({key for key, _ in model.letters if len(set(model.shown(key))) > 1})
-    return ("harm", tuple(keys)) if keys else ("fine",)
-
-
-def settled(pick, book, plan, many, keys=("k", "ab", "z")):
-    """A row of possible events behind which the shelf is quiet, with its model."""
-    model = random_events(pick, book, plan, many, keys)
-    while model.under_way():
-        word = "replay" if model.shelved and (not model.can(("work", "done")) or pick.random() < 0.5) else "work"
-        model.do((word, pick.choice(["done", "done", "stops"])))
-    return model
 
 
 def runs(many):
