@@ -13,6 +13,23 @@ def check_name(value):
         raise BadName(value)
 
 
+def free_position(plan, keys, shelved):
+    """The position in a line, by the keys of its letters and of those shelved, of the first one not held."""
+    for position, key in enumerate(keys):
+        if plan.way == "letter" or not shelved or plan.way == "key" and key not in shelved:
+            return position
+    return None
+
+
+def is_left_out(plan, done, number):
+    """Whether a guard leaves out a letter's deed, behind the deeds of its key, told by their numbers."""
+    if plan.stamp and any([other >= number for other in done]):
+        return True
+    if plan.window is None:
+        return False
+    return number in (done if plan.window == EVER else done[-plan.window:])
+
+
 class Shelf:
     """A line and a shelf of letters of a book, by a plan; at first nothing has happened."""
 
@@ -93,15 +110,11 @@ class Shelf:
 
     def _first_in_line(self):
         """The first letter in the line that is not held, or None."""
-        if self._plan.way == "all" and self._shelved:
-            return None
-        held = {}
-        if self._plan.way == "key":
-            held = {self._letters[number][0]: True for number in self._shelved}
-        for number in self._line:
-            if self._letters[number][0] not in held:
-                return number
-        return None
+        position = free_position(self._plan, self._keys_of(self._line), self._keys_of(self._shelved))
+        return None if position is None else self._line[position]
+
+    def _keys_of(self, numbers):
+        return [self._letters[number][0] for number in numbers]
 
     def do(self, event):
         """Lets an event happen, and returns its account."""
@@ -151,7 +164,7 @@ class Shelf:
 
     def _play(self, number, noted):
         key, deed = self._letters[number]
-        left = self._is_left_out(key, number)
+        left = is_left_out(self._plan, self._done[key], number)
         if not left:
             self._places[key] = self._moves[self._places[key]][deed]
             self._done[key].append(number)
@@ -160,16 +173,6 @@ class Shelf:
         elif noted:
             self._shelved.remove(number)
         return ("played", number, "left" if left else "done", noted)
-
-    def _is_left_out(self, key, number):
-        """Whether a guard leaves out a letter's deed."""
-        done = self._done[key]
-        window = self._plan.window
-        if self._plan.stamp and any([other >= number for other in done]):
-            return True
-        if window is None:
-            return False
-        return number in (done if window == EVER else done[-window:])
 
     def place(self, key):
         """The place of a key."""
