@@ -1,8 +1,8 @@
 """Carries of several keys, one by one, that are stopped amid and gone on with."""
 
 from lateeditions.back import check_back, pairs_behind
-from lateeditions.common import is_int, is_name, is_one_of
-from lateeditions.errors import BadKey, BadKeys, NotNow, TooFar
+from lateeditions.common import events_left, is_name, is_one_of
+from lateeditions.errors import BadKey, BadKeys, NotNow
 from lateeditions.likeness import desk_lots
 
 MOST_KEYS = 4
@@ -114,10 +114,7 @@ class Round:
 
     def undo(self, many):
         """Takes back so many of the last events."""
-        count = len(self._events)
-        if not is_int(many) or not 0 <= many <= count:
-            raise TooFar(count)
-        kept = self._events[:count - many]
+        kept = events_left(self._events, many)
         self._begin()
         for event in kept:
             self._happen(event)

@@ -38,7 +38,7 @@ def lasting_pairs(change):
     for pair, ahead in carried_pairs(change).items():
         for later, behind in pairs_behind(change, pair).items():
             if later not in told:
-                told[later] = (ahead, behind)
+                told[later] = (list(ahead), behind)
     return told
 
 

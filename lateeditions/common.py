@@ -1,4 +1,6 @@
-"""What several files need: kinds of values, what is reached, shortest rows, lots."""
+"""What several files need: kinds of values, what is reached, shortest rows, lots, events left."""
+
+from lateeditions.errors import TooFar
 
 
 def is_int(value):
@@ -132,3 +134,11 @@ def gathered(nodes, lots):
     for node in nodes:
         table[lots[node]].append(node)
     return list(table.values())
+
+
+def events_left(events, number):
+    """The list of events without so many of the last ones; other numbers, any values, are refused."""
+    many = len(events)
+    if not is_int(number) or not 0 <= number <= many:
+        raise TooFar(many)
+    return events[:many - number]

@@ -1,7 +1,7 @@
 """Letters that are handed on along a chain, and the harm that this does."""
 
-from lateeditions.common import is_int, is_name, is_one_of
-from lateeditions.errors import BadEvent, BadLetter, NotNow, TooFar
+from lateeditions.common import events_left, is_int, is_name, is_one_of
+from lateeditions.errors import BadEvent, BadLetter, NotNow
 from lateeditions.rowsofdesks import check_seat
 from lateeditions.shelves import HOWS, check_name, free_position, is_left_out
 
@@ -163,10 +163,7 @@ class Handing:
 
     def undo(self, number):
         """Takes back so many of the last events."""
-        many = len(self._events)
-        if not is_int(number) or not 0 <= number <= many:
-            raise TooFar(many)
-        kept = self._events[:many - number]
+        kept = events_left(self._events, number)
         self._begin()
         for event in kept:
             self._happen(event)

@@ -1,7 +1,7 @@
 """The shelf: letters under way, and what each key shows behind the events that happened."""
 
-from lateeditions.common import is_int, is_name, is_one_of
-from lateeditions.errors import BadLetter, BadName, NotNow, TooFar
+from lateeditions.common import events_left, is_int, is_name, is_one_of
+from lateeditions.errors import BadLetter, BadName, NotNow
 from lateeditions.machines import CARRY, is_deed_at, place_moves, place_sights
 from lateeditions.plans import EVER, check_fence
 
@@ -209,10 +209,7 @@ class Shelf:
 
     def undo(self, number):
         """Takes back so many of the last events."""
-        many = len(self._events)
-        if not is_int(number) or not 0 <= number <= many:
-            raise TooFar(many)
-        kept = self._events[:many - number]
+        kept = events_left(self._events, number)
         self._begin()
         for event in kept:
             self._happen(event)

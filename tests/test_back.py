@@ -215,6 +215,9 @@ class FallTest(unittest.TestCase):
             for one in told:
                 (one if tell is fall else one[0]).append("go")
             self.assertEqual(tell(forgetful()), again)
+        for change in CHANGES:
+            rows = [row for one in lasting_fall(change) or () for row in one]
+            self.assertEqual(len({id(row) for row in rows}), len(rows))
 
 
 if __name__ == "__main__":
