@@ -15,8 +15,9 @@ def check_name(value):
 
 def free_position(plan, keys, shelved):
     """The position in a line, by the keys of its letters and of those shelved, of the first one not held."""
+    held = {key: True for key in shelved}
     for position, key in enumerate(keys):
-        if plan.way == "letter" or not shelved or plan.way == "key" and key not in shelved:
+        if plan.way == "letter" or not held or plan.way == "key" and key not in held:
             return position
     return None
 
