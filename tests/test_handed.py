@@ -178,6 +178,9 @@ class HandingTest(unittest.TestCase):
         self.assertEqual(handing.wrong(), [(0, "k"), (1, "k")])
         handing = passed(two(), [("send", "z", "press"), ("send", "a", "press"), ("send", "m", "cut"), ("work", 0, "done")])
         self.assertEqual(handing.wrong(), [(0, "a"), (1, "a"), (1, "z")])
+        keys = ["q", "ab", "z", "b", "m", "carry", "a", "k"]
+        handing = passed(two(), [("send", key, "press") for key in keys])
+        self.assertEqual(handing.wrong(), [(seat, key) for seat in (0, 1) for key in sorted(keys)])
 
     def test_lists_are_new(self):
         handing = passed(two(), LATE[:3])

@@ -211,6 +211,49 @@ class InterfaceTest(unittest.TestCase):
                 self.assertEqual(call(*told), by_name, text)
         self.assertEqual(right, {})
 
+    def test_objects_made_and_methods_called_by_name(self):
+        press, chain = (0, "press"), Chain([lamp(), bell()], [Plan("letter"), Plan("key")])
+        leads = {"press": {"a": "b", "b": "a"}}
+        shelf_calls = [
+            ("can", [("carry",)]), ("do", [("work", "stops")]), ("place", ["k"]), ("due", ["k"]), ("shown", ["k"]), ("letter", [0]),
+            ("times", [0]), ("fails", [0]), ("fork", []), ("undo", [1]),
+        ]
+        house_calls = [
+            ("look", ["k", 0]), ("due_look", ["k", 0]), ("story", [0]), ("done", ["k"]), ("due_row", ["k"]), ("mark", []), ("back", [0]), ("log", []),
+        ]
+        for kind, made, begin, calls in [
+            (Desk, [["a", "b"], leads, {"a": "s", "b": "t"}], [], [("lead", ["a", ["press"]]), ("sight", ["b"]), ("come", [])]),
+            (
+                Change, [lamp(), lamp(), {"off": "on", "on": "on"}, {"press": [], "cut": ["press"]}, {"dark": "light", "light": "dark"}],
+                [], [("carried", ["off"]), ("row", ["cut"]), ("eye", ["dark"])],
+            ),
+            (Book, [[lamp()], []], [], []),
+            (Shelf, [lamp_book(), Plan("key")], [("do", [("send", "k", press)])], shelf_calls),
+            (House, [lamp_book(), Plan("key")], [("do", [("send", "k", press)])], shelf_calls[:-1] + house_calls + shelf_calls[-1:]),
+            (Round, [grow(), {"k": "on"}], [], [
+                ("do", [("carry", "k")]), ("left", []), ("standing", ["k"]), ("due", ["k"]), ("home", ["k"]),
+                ("give_up", [{"off": "off", "low": "on", "high": "on"}]), ("history", []), ("undo", [1]),
+            ]),
+            (Chain, [[lamp(), bell()], [Plan("key"), Plan("all")]], [], [("loosest", [1]), ("alone", [1]), ("part", [0, 1])]),
+            (Handing, [chain], [("do", [("send", "k", "press")])], [
+                ("can", [("work", 0, "done")]), ("do", [("work", 0, "stops")]), ("standing_at", [0, "k"]), ("due_at", [1, "k"]),
+                ("line_at", [1]), ("shelf_at", [0]), ("times_at", [0, 0]), ("letter", [0]), ("wrong", []), ("fork", []), ("undo", [1]),
+            ]),
+            (Console, [], [], [("execute", ["plan"])]),
+        ]:
+            names = list(inspect.signature(kind).parameters)
+            one, other = kind(*made), kind(**dict(zip(names, made)))
+            for name, args in begin:
+                self.assertEqual(getattr(one, name)(*args), getattr(other, name)(*args))
+            for name, args in calls:
+                names = list(inspect.signature(getattr(other, name)).parameters)
+                self.assertEqual(getattr(one, name)(*args), getattr(other, name)(**dict(zip(names, args))), (kind, name))
+            if CLASSES[kind][-1]:
+                self.assertTrue(one == other)
+            listed = {text.split("(")[0] for text in CLASSES[kind][2]} - {"__len__"}
+            self.assertEqual(listed, {name for name, _ in calls}, kind)
+        self.assertEqual(Plan("key", tries=2, window=1, stamp=True, fence=[press]), Plan(fence=(press,), stamp=True, window=1, tries=2, way="key"))
+
     def test_arguments_are_not_changed(self):
         before, after = samples(), samples()
         for module, texts in FUNCTIONS.items():
