@@ -52,7 +52,7 @@ def amiss(plan, instance):
 
 
 def harm_from(book, plan, instance):
-    """A list of events that shows harm, for an instance that fails."""
+    """A list of events that shows harm, where an instance fails; it may harm by another one."""
     if not is_failing(book, plan, instance):
         raise NotFailing(instance)
     return harm_of(book, plan)
