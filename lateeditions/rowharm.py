@@ -45,10 +45,10 @@ def handed_on(events, loose, many):
     told = []
     for event in events:
         if event[0] == "send":
-            told += [("send", event[1], event[2][1])] + done_at(range(loose))
+            told += [("send", event[1], event[2][1])] + done_at(list(range(loose)))
         else:
             told += [(event[0], loose, event[1])]
-            told += [] if event[1] == "fails" else done_at(range(loose + 1, many))
+            told += [] if event[1] == "fails" else done_at(list(range(loose + 1, many)))
     return told
 
 

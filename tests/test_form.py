@@ -84,6 +84,39 @@ def parents(tree):
     return {child: node for node in ast.walk(tree) for child in ast.iter_child_nodes(node)}
 
 
+def is_iterated(above, node):
+    """Whether what stands at a node is iterated on the spot, and by nothing of the package's own."""
+    over = above[node]
+    if isinstance(over, (ast.For, ast.comprehension)):
+        return over.iter is node
+    if not isinstance(over, ast.Call) or not isinstance(over.func, ast.Name):
+        return False
+    if over.func.id == "reversed":
+        return is_iterated(above, over)
+    return over.func.id in TAKERS and over.args[0] is node
+
+
+def is_asked_of(above, node):
+    """Whether a kept range is only asked for its length, an item or what is in it."""
+    over = above[node]
+    if isinstance(over, ast.Subscript):
+        return over.value is node
+    if isinstance(over, ast.Compare):
+        return isinstance(over.ops[-1], ast.In) and over.comparators[-1] is node
+    return isinstance(over, ast.Call) and called(over) == "len"
+
+
+def kept_uses(tree, above, assign):
+    """The places where a plain local variable, which keeps a range and is assigned once, is read."""
+    function = assign
+    while not isinstance(function, ast.FunctionDef):
+        function = above[function]
+    name = assign.targets[0].id
+    found = [node for node in ast.walk(function) if isinstance(node, ast.Name) and node.id == name]
+    assert len(assign.targets) == 1 and [node for node in found if isinstance(node.ctx, ast.Store)] == [assign.targets[0]]
+    return [node for node in found if isinstance(node.ctx, ast.Load)]
+
+
 class FormTest(unittest.TestCase):
     def test_files(self):
         for name in FILES:
@@ -201,6 +234,30 @@ class FormTest(unittest.TestCase):
                     at_once = isinstance(over, (ast.For, ast.comprehension)) and over.iter is node
                     taken = isinstance(over, ast.Call) and called(over) in TAKERS
                     self.assertTrue(at_once or taken, f"{name}:{node.lineno}")
+
+    def test_ranges_are_iterated_where_they_stand(self):
+        for name, tree in trees():
+            above = parents(tree)
+            for node in ast.walk(tree):
+                if not isinstance(node, ast.Call) or called(node) != "range":
+                    continue
+                over = above[node]
+                if isinstance(over, ast.Assign):
+                    for use in kept_uses(tree, above, over):
+                        self.assertTrue(is_iterated(above, use) or is_asked_of(above, use), f"{name}:{use.lineno}")
+                else:
+                    self.assertTrue(is_iterated(above, node), f"{name}:{node.lineno}")
+
+    def test_where_ranges_are_not_iterated(self):
+        texts = {
+            "def f():\n    return told(range(3))": False, "def f():\n    return range(3)": False, "def f():\n    return [range(3)]": False,
+            "def f():\n    return told(list(range(3)))": True, "def f():\n    return [k for k in range(3)]": True,
+            "def f():\n    for k in reversed(range(3)):\n        pass": True,
+        }
+        for text, expected in texts.items():
+            tree = ast.parse(text)
+            call = [node for node in ast.walk(tree) if isinstance(node, ast.Call) and called(node) == "range"][0]
+            self.assertIs(is_iterated(parents(tree), call), expected, text)
 
     def test_sets(self):
         for name, tree in trees():
