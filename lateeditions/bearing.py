@@ -1,6 +1,6 @@
 """What deeds bear: carries behind them, other sequences, being done again."""
 
-from lateeditions.common import is_int, parting
+from lateeditions.common import is_int, lot_moves, parting
 from lateeditions.errors import BadDeed, BadNumber
 from lateeditions.machines import (
     CARRY, check_edition, come_rows, is_deed_at, led_by, place_lots, place_moves, place_sights,
@@ -66,9 +66,11 @@ def bears_between(book, edition, deed, many, fenced):
     check_deed(book, edition, deed)
     check_many(many)
     moves = place_moves(book)
-    steps = late_steps(book, moves, many, fenced)
+    lots = place_lots(book)
+    behind = lot_moves(lots, moves)
+    steps = late_steps(lots, behind, many, fenced)
     for place, row in rows_into(book, moves, edition):
-        between = late_inputs(moves, steps, place, deed)
+        between = late_inputs(behind, steps, lots[place], deed)
         if between is not None:
             one = led_by(moves, place, [deed, deed] + between)
             other = led_by(moves, place, [deed] + between)
@@ -76,37 +78,40 @@ def bears_between(book, edition, deed, many, fenced):
     return None
 
 
-def late_steps(book, moves, many, fenced):
-    """For each number of deeds, from 0 to many, a dict from pairs of places to inputs.
+def late_steps(lots, behind, many, fenced):
+    """For each number of deeds, from 0 to many, a dict from pairs of different lots to inputs.
 
-    It has the pairs of one edition that a row with so many deeds, and with carries unless these
-    are fenced, leads to places that are not alike for good, and the first input of such a row
-    (None for the row without inputs).
+    It has the pairs of lots of one edition that a row with so many deeds, and with carries unless
+    these are fenced, leads to different lots, and the first input of such a row (None for the row
+    without inputs).
     """
-    lots = place_lots(book)
-    pairs = [(one, other) for one in moves for other in moves if one[0] == other[0]]
-    steps = [{(one, other): None for one, other in pairs if lots[one] != lots[other]}]
+    editions = {lot: place[0] for place, lot in lots.items()}
+    pairs = [(one, other) for one in behind for other in behind if one != other and editions[one] == editions[other]]
+    # Pairs of newer editions come first: a carry leads to one of them with as many deeds left.
+    pairs = sorted(pairs, key=lambda pair: -editions[pair[0]])
+    steps = [{pair: None for pair in pairs}]
     for _ in range(many):
-        steps.append(steps_ahead(moves, pairs, steps[-1], fenced))
+        # Once no pair has gone, none goes any more.
+        is_last = len(steps) > 1 and len(steps[-1]) == len(steps[-2])
+        steps.append(steps[-1] if is_last else steps_ahead(behind, steps[-1], fenced))
     return steps
 
 
-def steps_ahead(moves, pairs, fewer, fenced):
-    """The dict of late_steps for one deed more than the dict fewer is for."""
+def steps_ahead(behind, fewer, fenced):
+    """The dict of late_steps for one deed more than the dict fewer, which has all its pairs, is for."""
     more = {}
-    # Pairs of newer editions come first: a carry leads to one of them with as many deeds left.
-    for one, other in reversed(pairs):
-        for label, target in moves[one].items():
-            pair = (target, moves[other][label])
+    for one, other in fewer:
+        for label, target in behind[one].items():
+            pair = (target, behind[other][label])
             if label != CARRY and pair in fewer or label == CARRY and not fenced and pair in more:
                 more[(one, other)] = label
     return more
 
 
-def late_inputs(moves, steps, place, deed):
-    """The row between a deed and its repeat that late_steps tells, or None."""
-    behind = moves[place][deed]
-    pair = (moves[behind][deed], behind)
+def late_inputs(behind, steps, lot, deed):
+    """The row between a deed and its repeat that late_steps tells of a lot, or None."""
+    once = behind[lot][deed]
+    pair = (behind[once][deed], once)
     left = len(steps) - 1
     if pair not in steps[left]:
         return None
@@ -114,7 +119,7 @@ def late_inputs(moves, steps, place, deed):
     while steps[left][pair] is not None:
         label = steps[left][pair]
         row.append(label)
-        pair = (moves[pair[0]][label], moves[pair[1]][label])
+        pair = (behind[pair[0]][label], behind[pair[1]][label])
         if label != CARRY:
             left -= 1
     return row

@@ -107,10 +107,10 @@ def parting(one, other, signs, moves):
 def numbered(nodes, signs):
     """The dict from nodes to numbers of their signs, counted as they come first."""
     numbers = {}
+    lots = {}
     for node in nodes:
-        if signs[node] not in numbers:
-            numbers[signs[node]] = len(numbers)
-    return {node: numbers[signs[node]] for node in nodes}
+        lots[node] = numbers.setdefault(signs[node], len(numbers))
+    return lots
 
 
 def lot_numbers(nodes, signs, moves):
@@ -118,14 +118,26 @@ def lot_numbers(nodes, signs, moves):
 
     Nodes of one sign take the same labels, in the same sequence.
     """
-    coarse = {}
+    behind = {node: [node] + list(moves[node].values()) for node in nodes}
     lots = numbered(nodes, signs)
-    while lots != coarse:
-        coarse = lots
-        behind = {node: [node] + list(moves[node].values()) for node in nodes}
-        finer = {node: tuple([coarse[target] for target in behind[node]]) for node in nodes}
-        lots = numbered(nodes, finer)
+    many = 0
+    while many < count_lots(lots) < len(nodes):
+        many = count_lots(lots)
+        lots = numbered(nodes, {node: tuple([lots[one] for one in behind[node]]) for node in nodes})
     return lots
+
+
+def count_lots(lots):
+    return len(set(list(lots.values())))
+
+
+def lot_moves(lots, moves):
+    """The dict from the lots of nodes to dicts from labels to the lots behind them."""
+    heads = {lot: node for node, lot in lots.items()}
+    return {
+        lot: {label: lots[target] for label, target in moves[node].items()}
+        for lot, node in heads.items()
+    }
 
 
 def gathered(nodes, lots):

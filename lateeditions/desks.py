@@ -82,9 +82,15 @@ def are_sights(value, standings):
     return is_table(value, standings) and all([is_name(sight) for sight in value.values()])
 
 
+def desk_leads(desk):
+    """The dict from deeds to dicts from standings to those behind them."""
+    return {deed: dict(lead) for deed, lead in desk._leads.items()}
+
+
 def desk_moves(desk):
     """The dict from standings to dicts from deeds to the standings behind them."""
-    return {one: {deed: desk.lead(one, [deed]) for deed in desk.deeds} for one in desk.standings}
+    leads = desk_leads(desk)
+    return {one: {deed: leads[deed][one] for deed in leads} for one in desk.standings}
 
 
 def desk_sights(desk):

@@ -1,7 +1,6 @@
 """Fences and windows that are enough, and plans that are as strict or spare."""
 
-from lateeditions.conditions import failing, is_sound
-from lateeditions.machines import deeds_at
+from lateeditions.conditions import Ground, is_sound_on, needed_fence
 from lateeditions.plans import EVER, WAYS, Plan, check_fence
 
 WINDOWS = (None, 1, 2, 3, 4, 5, 6, 7, 8, 9, 10, 11, 12, EVER)
@@ -19,16 +18,15 @@ def with_fence(plan, fence):
 def least_fence(book, plan):
     """The ascending list of the deeds that must be in the fence, or None if none is enough."""
     check_fence(book, plan)
-    if not is_sound(book, with_fence(plan, sorted(deeds_at(book, book.last)))):
-        return None
-    # What fails without a fence, and not with all deeds in it, has to do with a carry behind its deed.
-    return sorted({instance[2] for instance in failing(book, with_fence(plan, ()))})
+    return needed_fence(Ground(book), plan)
 
 
 def least_window(book, plan):
     """The least window that is enough, 0 for none, or None if there is none."""
+    check_fence(book, plan)
+    ground = Ground(book)
     for window in WINDOWS:
-        if is_sound(book, with_window(plan, window)):
+        if is_sound_on(ground, with_window(plan, window)):
             return NO_WINDOW if window is None else window
     return None
 
@@ -46,18 +44,19 @@ def is_as_strict(one, other):
 
 def sparing(book):
     """The list of the sparing plans of a book."""
+    ground = Ground(book)
     plans = []
     for way in WAYS:
-        plans += sparing_with(book, way, False, WINDOWS) + sparing_with(book, way, True, (None,))
+        plans += sparing_with(ground, way, False, WINDOWS) + sparing_with(ground, way, True, (None,))
     return plans
 
 
-def sparing_with(book, way, stamp, windows):
+def sparing_with(ground, way, stamp, windows):
     """The sparing plans of one way, with a stamp or without one."""
     plans = []
     for window in windows:
         plan = Plan(way, window=window, stamp=stamp)
-        fence = least_fence(book, plan)
+        fence = needed_fence(ground, plan)
         if fence is not None and all([len(fence) < len(spared.fence) for spared in plans]):
             plans.append(with_fence(plan, fence))
     return plans

@@ -1,9 +1,8 @@
 """Rows that answer elder deeds under a map, and closed lots where no row does."""
 
-from lateeditions.common import are_different, is_one_of, reached, shortest_row
+from lateeditions.common import are_different, is_one_of, lot_moves, reached, shortest_row
 from lateeditions.desks import desk_moves
 from lateeditions.likeness import desk_lots
-from lateeditions.surely import lot_moves
 from lateeditions.vectors import goal_of, is_vector, led_vector, lots_along, vector_of
 
 
@@ -15,7 +14,7 @@ def row_for(first, second, places, deed):
 
 def row_between(second, vector, goal):
     """A shortest row that leads a vector to one that is alike to the goal, or None."""
-    moves = lot_moves(second, desk_lots(second))
+    moves = lot_moves(desk_lots(second), desk_moves(second))
     aim = tuple(lots_along(second, goal))
 
     def led_lots(lots):

@@ -1,8 +1,9 @@
 """Rows of events that harm, where a plan is not sound."""
 
-from lateeditions.conditions import LATE, TWICE, failing, is_failing
+from lateeditions.common import shortest_row
+from lateeditions.conditions import LATE, TWICE, first_failing, is_failing
 from lateeditions.errors import NotFailing
-from lateeditions.machines import CARRY, check_place, come_rows, parting_inputs, place_moves
+from lateeditions.machines import CARRY, check_place, parting_inputs, place_moves
 from lateeditions.shelves import Shelf
 
 KEY = "k"
@@ -11,17 +12,17 @@ KEY = "k"
 def way_to(book, place):
     """A shortest row of inputs that leads the start of a book to a place, or None."""
     check_place(book, place)
-    return come_rows(place_moves(book), book.start).get(place)
+    moves = place_moves(book)
+    return shortest_row(book.start, lambda one: list(moves[one].items()), lambda one: one == place)
 
 
 def harm_of(book, plan):
     """A list of events of one key that shows harm, or None."""
-    instances = failing(book, plan)
-    if not instances:
+    instance = first_failing(book, plan)
+    if instance is None:
         return None
     # A late instance stands first only if nothing else fails. Then its deed may change places with
     # the row between, so that what is done again behind this row harms as it does ahead of it.
-    instance = instances[0]
     events = at_once(way_to(book, instance[1])) + amiss(plan, instance)
     shelf = Shelf(book, plan)
     for event in events:

@@ -1,8 +1,9 @@
 """Places of a book, the inputs that they take, and places that are alike for good."""
 
 from lateeditions.common import (
-    gathered, is_int, is_one_of, lot_numbers, parting, reached, shortest_rows,
+    first_met, gathered, is_int, is_one_of, lot_numbers, parting, reached, shortest_rows,
 )
+from lateeditions.desks import desk_leads
 from lateeditions.errors import BadEdition, BadInput, BadPlace
 
 CARRY = "carry"
@@ -86,17 +87,15 @@ def is_input_row(book, edition, value):
 
 
 def deed_leads(book, edition):
-    """Where deeds lead in an edition: a dict from inputs to dicts between its standings."""
+    """Where deeds lead in an edition: a dict from inputs, in their sequence, to dicts between its standings."""
     desk = book.desks[edition]
-    leads = {}
-    for deed in desk.deeds:
-        leads[(edition, deed)] = {one: desk.lead(one, [deed]) for one in desk.standings}
+    leads = {(edition, deed): lead for deed, lead in desk_leads(desk).items()}
     for number in reversed(range(edition)):
         change = book.changes[number]
         for deed in change.first.deeds:
             newer = [leads[(number + 1, one)] for one in change.row(deed)]
             leads[(number, deed)] = {one: led_through(newer, one) for one in desk.standings}
-    return leads
+    return {one: leads[one] for one in deeds_at(book, edition)}
 
 
 def led_through(leads, standing):
@@ -111,18 +110,11 @@ def place_moves(book):
     for edition, desk in enumerate(book.desks):
         leads = deed_leads(book, edition)
         for standing in desk.standings:
-            targets = {}
-            for one in inputs_at(book, edition):
-                targets[one] = place_behind(book, leads, (edition, standing), one)
+            targets = {one: (edition, lead[standing]) for one, lead in leads.items()}
+            if edition < book.last:
+                targets[CARRY] = (edition + 1, book.changes[edition].carried(standing))
             moves[(edition, standing)] = targets
     return moves
-
-
-def place_behind(book, leads, place, one):
-    edition, standing = place
-    if one == CARRY:
-        return (edition + 1, book.changes[edition].carried(standing))
-    return (edition, leads[one][standing])
 
 
 def place_sights(book):
@@ -161,8 +153,12 @@ def led_by(moves, place, row):
 
 def book_come(book):
     """The list of the places that can come, by editions and their desks' sequences."""
-    moves = place_moves(book)
-    met = reached([book.start], lambda place: list(moves[place].values()))
+    return places_come(book, place_moves(book))
+
+
+def places_come(book, moves):
+    """The places that can come, in the sequence of book_come."""
+    met = {place: True for place in reached([book.start], lambda place: list(moves[place].values()))}
     return [place for place in moves if place in met]
 
 
@@ -187,11 +183,13 @@ def place_lots(book):
     The places that can come stand ahead in it.
     """
     moves = place_moves(book)
+    return lots_among(book, first_met(places_come(book, moves) + list(moves)), moves)
+
+
+def lots_among(book, places, moves):
+    """The dict from some places, with all to which these lead, to the numbers of their lots."""
     sights = place_sights(book)
-    come = book_come(book)
-    places = come + [place for place in moves if place not in come]
-    signs = {place: (place[0], sights[place]) for place in places}
-    return lot_numbers(places, signs, moves)
+    return lot_numbers(places, {place: (place[0], sights[place]) for place in places}, moves)
 
 
 def book_lots(book):

@@ -1,10 +1,8 @@
 """Papers: pairs of places that show that a plan is sound."""
 
 from lateeditions.common import first_met, reached
-from lateeditions.conditions import LATE, asked_at, asked_words, compared, late_deeds
-from lateeditions.machines import (
-    CARRY, book_come, deeds_at, is_place, led_by, place_moves, place_sights,
-)
+from lateeditions.conditions import LATE, asked_words, compared, is_fenced, late_deeds
+from lateeditions.machines import CARRY, book_come, deeds_at, is_place, place_moves, place_sights
 from lateeditions.plans import check_fence
 
 
@@ -55,12 +53,11 @@ def asked_pairs(book, plan, moves):
 
 def plain_pairs(book, plan, moves, word):
     """The pairs of the instances with a word that is not "late"."""
-    pairs = []
-    for place in book_come(book):
-        for instance in asked_at(book, plan, word, place):
-            one, other = compared(instance)
-            pairs.append((led_by(moves, place, one), led_by(moves, place, other)))
-    return pairs
+    return [
+        (one, other)
+        for place in book_come(book) for deeds, one, other in compared(moves, place, word)
+        if not is_fenced(plan, word, deeds)
+    ]
 
 
 def late_pairs(book, plan, moves, fenced):

@@ -1,7 +1,7 @@
 """Whether chains can come to harm, and with which ways they can not."""
 
 from lateeditions.books import Book
-from lateeditions.conditions import is_sound
+from lateeditions.conditions import Ground, is_sound_on
 from lateeditions.harming import harm_of
 from lateeditions.plans import WAYS, Plan
 from lateeditions.rowsofdesks import loosest_of, with_way
@@ -9,18 +9,26 @@ from lateeditions.rowsofdesks import loosest_of, with_way
 
 def weak_seats(chain):
     """The ascending list of the seats at which a chain can come to harm."""
-    return [seat for seat in range(len(chain)) if is_weak(chain, seat, chain.loosest(seat))]
+    return [seat for seat in range(len(chain)) if is_weak(seat_ground(chain, seat), chain.alone(seat)[1])]
 
 
-def is_weak(chain, seat, way):
-    """Whether the desk of a seat, alone, can come to harm with a way."""
-    return not is_sound(Book([chain.desks[seat]], []), with_way(chain.plans[seat], way))
+def seat_ground(chain, seat):
+    """What plans stand on for the desk of a seat alone."""
+    return Ground(Book([chain.desks[seat]], []))
+
+
+def is_weak(ground, plan):
+    """Whether a desk alone can come to harm with a plan."""
+    return not is_sound_on(ground, plan)
 
 
 def harm(chain):
     """A list of events of one key that harms a chain, or None."""
-    seats = weak_seats(chain)
-    return harm_at(chain, seats[0]) if seats else None
+    for seat in range(len(chain)):
+        events = harm_at(chain, seat)
+        if events is not None:
+            return events
+    return None
 
 
 def harm_at(chain, seat):
@@ -59,8 +67,9 @@ def done_at(seats):
 def ways_enough(chain):
     """The ascending list of the tuples of ways with which a chain can not come to harm."""
     rows = [()]
-    for seat in range(len(chain)):
-        weak = [way for way in WAYS if is_weak(chain, seat, way)]
+    for seat, plan in enumerate(chain.plans):
+        ground = seat_ground(chain, seat)
+        weak = [way for way in WAYS if is_weak(ground, with_way(plan, way))]
         longer = [row + (way,) for row in rows for way in sorted(WAYS)]
         rows = [row for row in longer if loosest_of(row) not in weak]
     return rows
@@ -68,7 +77,7 @@ def ways_enough(chain):
 
 def loosest_enough(chain):
     """The ascending list of those of which no single way can be made looser."""
-    enough = ways_enough(chain)
+    enough = {row: True for row in ways_enough(chain)}
     return [row for row in enough if not any([looser in enough for looser in looser_rows(row)])]
 
 

@@ -77,7 +77,7 @@ def check_seat(chain, value):
 
 
 def loosest_of(ways):
-    return min(ways, key=lambda way: WAYS.index(way))
+    return [way for way in WAYS if way in ways][0]
 
 
 def with_way(plan, way):

@@ -1,6 +1,6 @@
 """Rows that bring standings together, and rows that tell where one came to."""
 
-from lateeditions.common import are_different, first_met, is_one_of, shortest_row
+from lateeditions.common import are_different, first_met, is_one_of, lot_moves, shortest_row
 from lateeditions.desks import desk_moves, desk_sights
 from lateeditions.errors import BadStandings
 from lateeditions.likeness import desk_lots
@@ -22,22 +22,13 @@ def sure_row(desk, standings):
     """A shortest row that leads all the standings to alike ones, or None."""
     check_standings(desk, standings)
     numbers = desk_lots(desk)
-    moves = lot_moves(desk, numbers)
+    moves = lot_moves(numbers, desk_moves(desk))
 
     def led_lots(lots):
         return [(deed, led_all(lots, moves, deed)) for deed in desk.deeds]
 
     start = tuple(sorted({numbers[standing] for standing in standings}))
     return shortest_row(start, led_lots, lambda lots: len(lots) == 1)
-
-
-def lot_moves(desk, numbers):
-    """The dict from lots of alike standings to dicts from deeds to the lots behind them."""
-    moves = desk_moves(desk)
-    return {
-        numbers[one]: {deed: numbers[moves[one][deed]] for deed in desk.deeds}
-        for one in desk.standings
-    }
 
 
 def led_all(lots, moves, deed):
@@ -49,7 +40,7 @@ def telling_row(desk, standings):
     """A shortest row behind which the sights along it tell the standing, but for alike ones."""
     check_standings(desk, standings)
     numbers = desk_lots(desk)
-    moves = lot_moves(desk, numbers)
+    moves = lot_moves(numbers, desk_moves(desk))
     sights = desk_sights(desk)
     signs = {numbers[standing]: sights[standing] for standing in desk.standings}
 

@@ -1,7 +1,9 @@
 """What several tests need: values of all kinds, desks made by number, plain searches."""
 
 import itertools
+import os
 import random
+import sys
 
 from lateeditions.books import Book, Change
 from lateeditions.desks import Desk
@@ -21,6 +23,26 @@ def kept(call):
             KEPT[key] = (book, call(book, *rest))
         return KEPT[key][1]
     return told
+
+
+def lines_run(call, *args):
+    """How many lines of the package a call runs, those that are run again counted again."""
+    lines = []
+
+    def count(frame, event, _):
+        if f"{os.sep}lateeditions{os.sep}" not in frame.f_code.co_filename:
+            return None
+        if event == "line":
+            lines.append(frame.f_lineno)
+        return count
+
+    before = sys.gettrace()
+    sys.settrace(count)
+    try:
+        call(*args)
+    finally:
+        sys.settrace(before)
+    return len(lines)
 
 
 def lamp():

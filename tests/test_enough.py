@@ -12,7 +12,7 @@ from lateeditions.smallest import smallest
 from plainly import fences_of
 from support import (
     all_deeds, all_plans, altered, capped, check_bad_fences, dim, forgetting, grow, half_right_books, kept, lamp,
-    lamp_book, made_book, made_desk, made_plan, renamed, right_book, ring, same_but, setters, slow, twins,
+    lamp_book, lines_run, made_book, made_desk, made_plan, renamed, right_book, ring, same_but, setters, slow, twins,
 )
 
 BOOKS = [made_book(3, 1), made_book(4, 2), made_book(7, 2), right_book(2, 1), right_book(4, 2), right_book(10, 3), made_book(6, 3)]
@@ -29,7 +29,7 @@ def all_fences(book):
 
 @kept
 def is_sound_with(book, way, window, stamp, fence):
-    return is_sound(book, Plan(way, window=window, stamp=stamp, fence=fence))
+    return failing(book, Plan(way, window=window, stamp=stamp, fence=fence)) == []
 
 
 def plain_fence(book, way, window, stamp):
@@ -59,7 +59,7 @@ FEW = [book for book in BOOKS if len(all_deeds(book)) < 5]
 class LeastFenceTest(unittest.TestCase):
     def test_all_fences(self):
         sizes = []
-        for book in FEW + [lagging()]:
+        for book in FEW + [lagging(), *THREE]:
             for way in WAYS:
                 for window in (None, 1, 2, 12, "ever"):
                     for stamp in (False, True):
@@ -69,6 +69,7 @@ class LeastFenceTest(unittest.TestCase):
                         for fence in all_fences(book):
                             enough = told is not None and all(deed in fence for deed in told)
                             self.assertIs(is_sound_with(book, way, window, stamp, tuple(fence)), enough)
+                            self.assertIs(is_sound(book, Plan(way, window=window, stamp=stamp, fence=fence)), enough)
                         self.assertEqual(told, plain_fence(book, way, window, stamp))
                         sizes.append(-1 if told is None else len(told))
         for size in (-1, 0, 1, 2):
@@ -213,7 +214,7 @@ class IsAsStrictTest(unittest.TestCase):
 class SparingTest(unittest.TestCase):
     def test_against_all_fences(self):
         many = []
-        for book in FEW + [lagging()]:
+        for book in FEW + [lagging(), *THREE]:
             told = sparing(book)
             self.assertEqual([(plan.way, plan.window, plan.stamp, plan.fence) for plan in told], plain_sparing(book))
             for plan in told:
@@ -236,6 +237,69 @@ class SparingTest(unittest.TestCase):
         self.assertEqual(len(sparing(setters())), 5)
 
 
+class WrittenOutTest(unittest.TestCase):
+    """The sparing plans of several books, written out."""
+
+    def check(self, book, letters, fence):
+        """Holds the plans whose way is "letter", and the fence of all others."""
+        told = [(plan.way, plan.window, plan.stamp, plan.fence) for plan in sparing(book)]
+        others = [(way, *part, fence) for way in ("key", "all") for part in ((1, False), (None, True))]
+        self.assertEqual(told, letters + others)
+
+    def test_one_edition(self):
+        self.check(Book([lamp()], []), [], ())
+        for many in range(4, 10):
+            self.check(falling(many), [("letter", many - 2, False, ())], ())
+        self.assertEqual([(plan.way, plan.window, plan.stamp, plan.fence) for plan in sparing(falling(2))], [
+            (way, None, stamp, ()) for way in WAYS for stamp in (False, True)
+        ])
+
+    def test_two_editions(self):
+        self.check(Book([lamp(), lamp()], [lost()]), [], (PRESS,))
+        go, x, y = (0, "go"), (0, "x"), (0, "y")
+        for row, window in ((["go", "go"], 2), ([], "ever")):
+            book = Book([falling(4).desks[0]] * 2, [going(row)])
+            self.check(book, [("letter", window, False, (go,))], (go,))
+        self.check(lagging(), [("letter", 2, False, (x, y)), ("letter", 3, False, (y,))], (y,))
+
+    def test_three_editions(self):
+        lamps = [lamp()] * 3
+        self.check(Book(lamps, [lost(), lost()]), [], (PRESS, (1, "press")))
+        self.check(Book(lamps, [plain_change(lamp()), lost()]), [], (PRESS, (1, "press")))
+        self.check(Book(lamps, [lost(), plain_change(lamp())]), [], (PRESS,))
+        desks = [falling(4).desks[0]] * 3
+        go, newer = (0, "go"), (1, "go")
+        self.check(Book(desks, [plain_change(desks[0])] * 2), [("letter", 2, False, ())], ())
+        self.check(Book(desks, [going([]), plain_change(desks[0])]), [("letter", "ever", False, (go,))], (go,))
+        self.check(Book(desks, [plain_change(desks[0]), going([])]), [("letter", "ever", False, (go, newer))], (go, newer))
+        x, y = (0, "x"), (0, "y")
+        first, second = THREE
+        self.check(first, [("letter", 2, False, (x, y)), ("letter", 3, False, (y,))], (y,))
+        self.check(second, [
+            ("letter", 2, False, (x, y, (1, "x"), (1, "y"))), ("letter", 3, False, (y, (1, "y"))),
+        ], (y, (1, "y")))
+
+    def test_cost(self):
+        lamps, desks = [lamp()] * 3, [falling(9).desks[0]] * 3
+        for many in (1, 2, 3):
+            for book in (Book(lamps[:many], [lost()] * (many - 1)), Book(desks[:many], [plain_change(desks[0])] * (many - 1))):
+                self.assertLess(lines_run(sparing, book), 30000)
+                self.assertLess(lines_run(least_window, book, Plan("letter")), 25000)
+
+
+def lost():
+    """A change between lamps by which a press behind it does nothing."""
+    return Change(
+        lamp(), lamp(), {"off": "off", "on": "on"}, {"press": [], "cut": ["cut"]}, {"dark": "dark", "light": "light"},
+    )
+
+
+def going(row):
+    """A change between desks that count up to three, with a row for the count."""
+    desk = falling(4).desks[0]
+    return Change(desk, desk, {name: name for name in desk.standings}, {"go": row}, {"s": "s", "t": "t"})
+
+
 def lagging():
     """A book in which x needs a fence with a window of two, not with one of three; y needs one always.
 
@@ -250,6 +314,18 @@ def lagging():
     }, {"a": "s", "x": "s", "xz": "s", "z": "s", "zz": "s", "t": "u"})
     places = {"a": "a", "b": "x", "c": "a", "d": "x", "t": "t"}
     return Book([first, second], [Change(first, second, places, {"x": ["x"], "y": ["z"]}, {"s": "s", "u": "s"})])
+
+
+def lagging_ahead_and_behind():
+    """Books of three editions: what lags does so at the first change alone, or at the second one."""
+    desks, change = lagging().desks, lagging().changes[0]
+    return [
+        Book([desks[0], desks[1], desks[1]], [change, plain_change(desks[1])]),
+        Book([desks[0], desks[0], desks[1]], [plain_change(desks[0]), change]),
+    ]
+
+
+THREE = lagging_ahead_and_behind()
 
 
 class SameBooksTest(unittest.TestCase):

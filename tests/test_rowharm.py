@@ -3,7 +3,8 @@ import random
 import unittest
 
 from lateeditions.books import Book
-from lateeditions.conditions import is_sound
+from lateeditions.conditions import failing
+from lateeditions.desks import Desk
 from lateeditions.errors import BadSeat
 from lateeditions.handed import Handing, harmed, harms
 from lateeditions.harming import harm_of
@@ -11,7 +12,7 @@ from lateeditions.plans import Plan
 from lateeditions.rowharm import harm, harm_at, loosest_enough, ways_enough, weak_seats
 from lateeditions.rowsofdesks import Chain
 from chains import WAYS, ChainModel, bell, counter, made_chain, random_handing, settle
-from support import any_values, capped, lamp, made_desk, refused, same_but, setters
+from support import any_values, capped, lamp, lines_run, made_desk, refused, same_but, setters
 
 CHAINS = [made_chain(seed) for seed in range(140)]
 
@@ -20,7 +21,7 @@ def is_weak_alone(chain, seat):
     desk, plan = chain.desks[seat], chain.plans[seat]
     ways = [other.way for other in chain.plans[:seat + 1]]
     loosest = [way for way in WAYS if way in ways][0]
-    return not is_sound(Book([desk], []), same_but(plan, way=loosest))
+    return failing(Book([desk], []), same_but(plan, way=loosest)) != []
 
 
 def with_ways(chain, ways):
@@ -170,6 +171,127 @@ class WaysEnoughTest(unittest.TestCase):
         self.assertEqual(loosest_enough(Chain([lamp()], [Plan("letter")])), [])
         self.assertEqual(ways_enough(Chain([bell()], [Plan("all")])), [("all",), ("key",), ("letter",)])
         self.assertEqual(loosest_enough(Chain([lamp()], [Plan("all", stamp=True)])), [("key",)])
+
+
+NAMES = ["s", "t", "u", "v", "st", "ts", "w", "abcdefgh", "x"]
+DEEDS = ["send", "back", "work", "hop"]
+
+
+def falling(many):
+    """A desk that counts one deed up to a top, which alone is seen."""
+    names = "abcdefghi"[:many]
+    return Desk(list(names), {"go": dict(zip(names, names[1:] + names[-1]))}, {name: "t" if name == names[-1] else "s" for name in names})
+
+
+def wheel():
+    return Desk(["a", "b", "c"], {"go": {"a": "b", "b": "c", "c": "a"}}, {"a": "s", "b": "s", "c": "t"})
+
+
+def nine(sights, *targets):
+    """A desk of nine standings, told by the numbers of those to which each deed leads."""
+    leads = {deed: {name: NAMES[int(one)] for name, one in zip(NAMES, row)} for deed, row in zip(DEEDS, targets)}
+    return Desk(NAMES, leads, dict(zip(NAMES, sights)))
+
+
+def with_window(desks, window, ways):
+    return Chain(desks, [Plan(way, window=window) for way in ways])
+
+
+def rows_of(*allowed):
+    return list(itertools.product(*[part.split() for part in allowed]))
+
+
+def told(text):
+    """Events in short: a deed is sent, and a seat with d, s or f is a work there; r stands ahead of a replay that is done."""
+    events = []
+    for word in text.split():
+        if word in DEEDS + ["go"]:
+            events.append(("send", "k", word))
+        elif word[0] == "r":
+            events.append(("replay", int(word[1]), "done"))
+        else:
+            events.append(("work", int(word[0]), {"d": "done", "s": "stops", "f": "fails"}[word[1]]))
+    return events
+
+
+class WrittenOutTest(unittest.TestCase):
+    """What is told of chains with several windows, written out."""
+
+    def check(self, chain, seats, rows, enough):
+        self.assertEqual(weak_seats(chain), seats)
+        self.assertEqual([harm_at(chain, seat) for seat in range(len(chain))], [None if row is None else told(row) for row in rows])
+        self.assertEqual(harm(chain), None if not seats else told(rows[seats[0]]))
+        self.assertEqual(ways_enough(chain), enough)
+        for seat in seats:
+            self.assertIn(seat, harmed(chain, harm_at(chain, seat)))
+
+    def test_one_deed(self):
+        desks, ways = [falling(2), falling(3), falling(9), wheel()], ["letter"] * 4
+        go = " go 0d 1d 2d 3d"
+        self.check(with_window(desks, None, ways), [1, 2, 3], [
+            None, "go 0d 1s 2d 3d 1f r1 2d 3d", "go 0d 1d 2s 3d 2f r2 3d" + 6 * go, "go 0d 1d 2d 3s 3f r3",
+        ], [])
+        self.check(with_window(desks, 1, ways), [2, 3], [
+            None, None, "go 0d 1d 2s 3d 2f" + go + " r2 3d" + 5 * go, "go 0d 1d 2d 3s 3f" + go + " r3",
+        ], rows_of(*["all key"] * 4))
+        self.check(with_window(desks, 12, ways), [3], [None, None, None, "go 0d 1d 2d 3s 3f" + 12 * go + " r3"], rows_of(*["all key"] * 4))
+        self.check(with_window(desks, "ever", ways), [], [None] * 4, rows_of(*["all key letter"] * 4))
+
+    def test_windows_that_are_long_enough(self):
+        for many in range(3, 10):
+            for window, weak in ((many - 3, True), (many - 2, False), (12, False), ("ever", False)):
+                chain = with_window([falling(many), falling(2)], window or None, ["letter", "all"])
+                self.assertEqual(weak_seats(chain), [0] if weak else [])
+                enough = rows_of("all key" if weak else "all key letter", "all key letter")
+                self.assertEqual(ways_enough(chain), enough if window else [])
+
+    def test_deeds_that_change_places(self):
+        desks = [
+            nine("ssssssssx", "123456788", "123456788", "234567888", "888888888"), nine("abcdefghi", *["012345678"] * 4),
+            nine("aabbccdde", "123456788", "234567888", "345678888", "456788888"),
+            nine("aaaaaaaab", "123456780", "234567801", "456780123", "801234567"),
+        ]
+        ways = ["letter", "letter", "key", "all"]
+        work, hop = [f" {deed} 0d 1d 2d 3d" for deed in ("work", "hop")]
+        keys = rows_of(*["all key"] * 4)
+        self.check(with_window(desks, None, ways), [0, 2, 3], [
+            "send 0s 1d 2d 3d 0f r0 1d 2d 3d" + 3 * work, None, "send 0d 1s 2d 3d 1f r1 2d 3d",
+            "send 0d 1s 2d 3d 1f r1 2d 3d back 0d 1d 2d 3d" + work,
+        ], [])
+        self.check(with_window(desks, 1, ways), [0, 2, 3], [
+            "send 0s 1d 2d 3d 0f" + work + " r0 1d 2d 3d" + 2 * work, None, "send 0d 1s 2d 3d 1f" + hop + " r1 2d 3d",
+            "send 0d 1s 2d 3d 1f" + hop + " r1 2d 3d" + hop,
+        ], keys)
+        self.check(with_window(desks, 12, ways), [3], [None, None, None, "send 0d 1s 2d 3d 1f" + 12 * hop + " r1 2d 3d"], keys)
+        self.check(with_window(desks, "ever", ways), [], [None] * 4, rows_of(*["all key letter"] * 4))
+
+    def test_deeds_that_do_not(self):
+        desks = [
+            nine("abcdefghi", *[9 * one for one in "0123"]), nine("abcdefghi", *["012345678"] * 4),
+            nine("abcabcabc", *["345678012"] * 4), nine("aaaaaaaab", *["888888888"] * 4),
+        ]
+        for window in (None, 1, 12, "ever"):
+            row = "send 0f back 0d 1d 2d 3d r0 1d 2d 3d"
+            chain = with_window(desks, window, ["letter", "letter", "key", "all"])
+            self.check(chain, [0], [row, None, None, None], rows_of("all key", *["all key letter"] * 3))
+            kept = with_window(desks, window, ["key", "letter", "key", "all"])
+            self.check(kept, [], [None] * 4, rows_of("all key", *["all key letter"] * 3))
+
+
+class CostTest(unittest.TestCase):
+    def test_nine_standings(self):
+        desks = [
+            nine("abcabcabc", "123456780", "246801357", "048372615", "012345678"),
+            nine("ssssssssx", "123456788", "123456788", "234567888", "888888888"),
+            nine("abcabcabc", *["345678012"] * 4), nine("aaaaaaaab", "123456780", "234567801", "456780123", "801234567"),
+        ]
+        for window in (None, 1, 12, "ever"):
+            chain = with_window(desks, window, ["letter"] * 4)
+            self.assertLess(lines_run(weak_seats, chain), 12000)
+            self.assertLess(lines_run(ways_enough, chain), 12000)
+            self.assertLess(lines_run(harm, chain), 12000)
+            for seat in range(4):
+                self.assertLess(lines_run(harm_at, chain, seat), 12000)
 
 
 if __name__ == "__main__":
