@@ -724,7 +724,9 @@ def check_bad_fences(test, book, call):
         (sorted(all_deeds(book)) + [(7, "a"), (7, "b")], (7, "a")), ([(0, "a"), (0, "b"), (9, "c")], (0, "a")),
         ([(10 ** 59, "x")], (10 ** 59, "x")),
     ]:
-        refused(test, BadFence, bad, call, book, Plan("key", fence=fence))
+        # In a book of one edition the second plan is sound but for its fence.
+        for plan in (Plan("key", fence=fence), Plan("all", stamp=True, fence=fence)):
+            refused(test, BadFence, bad, call, book, plan)
 
 
 def ring(many=9, editions=1):
