@@ -240,9 +240,11 @@ def needed_fence(ground, plan):
     needed = [deeds[0] for _, deeds in ground.wrong(CARRY)]
     if LATE in words:
         many = late_deeds(plan)
-        if any([most >= many for most in ground.late_depths(True).values()]):
+        late = [deed for deed, most in ground.late_depths(False).items() if most >= many]
+        # The rows that stand behind a deed in the fence are among those of one that is not.
+        if any([ground.late_depths(True)[deed] >= many for deed in late]):
             return None
-        needed += [deed for deed, most in ground.late_depths(False).items() if most >= many]
+        needed += late
     return sorted(set(needed))
 
 
