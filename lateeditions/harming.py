@@ -13,7 +13,11 @@ def way_to(book, place):
     """A shortest row of inputs that leads the start of a book to a place, or None."""
     check_place(book, place)
     moves = place_moves(book)
-    return shortest_row(book.start, lambda one: list(moves[one].items()), lambda one: one == place)
+
+    def is_there(one):
+        return one == place
+
+    return shortest_row(book.start, lambda one: list(moves[one].items()), is_there)
 
 
 def harm_of(book, plan):

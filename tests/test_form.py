@@ -2,6 +2,7 @@
 
 import ast
 import builtins
+import itertools
 import os
 import re
 import unittest
@@ -115,6 +116,49 @@ def kept_uses(tree, above, assign):
     found = [node for node in ast.walk(function) if isinstance(node, ast.Name) and node.id == name]
     assert len(assign.targets) == 1 and [node for node in found if isinstance(node.ctx, ast.Store)] == [assign.targets[0]]
     return [node for node in found if isinstance(node.ctx, ast.Load)]
+
+
+def parameters(one):
+    """The names of the parameters of a lambda, in whatever sequence they stand."""
+    told = one.args
+    named = [*told.posonlyargs, *told.args, *told.kwonlyargs]
+    return sorted([part.arg for part in [*named, told.vararg, told.kwarg] if part is not None])
+
+
+def defaults(one):
+    """The default values of a lambda by the names of their parameters."""
+    told = one.args
+    placed = [*told.posonlyargs, *told.args]
+    pairs = list(zip(placed[len(placed) - len(told.defaults):], told.defaults))
+    pairs += list(zip(told.kwonlyargs, told.kw_defaults))
+    return {part.arg: ast.dump(value) for part, value in pairs if value is not None}
+
+
+def share_a_line(one, other):
+    return one.lineno <= other.end_lineno and other.lineno <= one.end_lineno
+
+
+def statement_of(above, node):
+    """The innermost statement in which a node stands."""
+    while not isinstance(node, ast.stmt):
+        node = above[node]
+    return node
+
+
+def lambda_pairs(tree):
+    """The lines of the lambdas with parameters of the same names that no file may have side by side.
+
+    They stand on one line, or, with different default values, in one statement.
+    """
+    above = parents(tree)
+    found = [node for node in ast.walk(tree) if isinstance(node, ast.Lambda)]
+    bad = []
+    for one, other in itertools.combinations(found, 2):
+        if parameters(one) == parameters(other):
+            unlike = defaults(one) != defaults(other) and statement_of(above, one) is statement_of(above, other)
+            if unlike or share_a_line(one, other):
+                bad.append((one.lineno, other.lineno))
+    return bad
 
 
 class FormTest(unittest.TestCase):
@@ -258,6 +302,30 @@ class FormTest(unittest.TestCase):
             tree = ast.parse(text)
             call = [node for node in ast.walk(tree) if isinstance(node, ast.Call) and called(node) == "range"][0]
             self.assertIs(is_iterated(parents(tree), call), expected, text)
+
+    def test_lambdas_beside_each_other(self):
+        for name, tree in trees():
+            self.assertEqual(lambda_pairs(tree), [], name)
+
+    def test_which_lambdas_stand_beside_each_other(self):
+        texts = {
+            "f(lambda one: [one], lambda one: one == 1)": [(1, 1)], "f(lambda: 1, lambda: 2)": [(1, 1)],
+            "f(lambda one: 1, lambda other: 2)": [], "f(lambda one: 1, lambda one, other: 2)": [],
+            "f(lambda one, other: 1, lambda other, one: 2)": [(1, 1)],
+            "f(lambda one=1: 1, lambda one=2: 2)": [(1, 1)], "f(lambda one: 1, lambda one=2: 2)": [(1, 1)],
+            "f(lambda one: lambda one: 1)": [(1, 1)], "f(lambda one=lambda one: 1: 2)": [(1, 1)],
+            "f(lambda one: 1); g(lambda one: 2)": [(1, 1)], "f(lambda one: 1)\ng(lambda one: 2)": [],
+            "f(\n    lambda one: 1,\n    lambda one: 2,\n)": [], "f(lambda one: [\n    one], lambda one: 2)": [(1, 2)],
+            "f(\n    lambda one=1: 1,\n    lambda one=1: 2,\n)": [],
+            "f(\n    lambda one=1: 1,\n    lambda one=2: 2,\n)": [(2, 3)],
+            "f(\n    lambda one: 1,\n    lambda one=2: 2,\n)": [(2, 3)], "f(lambda one=1: 1)\ng(lambda one=2: 2)": [],
+            "f(\n    lambda one, other=1: 1,\n    lambda other, one=1: 2,\n)": [(2, 3)],
+            "f(\n    lambda one=1: 1,\n    lambda other=2: 2,\n)": [],
+            "def f():\n    g(lambda one=1: 1)\n    g(lambda one=2: 2)": [],
+            "f(lambda one: 1, lambda other: 2, lambda one: 3)": [(1, 1)],
+        }
+        for text, expected in texts.items():
+            self.assertEqual(lambda_pairs(ast.parse(text)), expected, text)
 
     def test_sets(self):
         for name, tree in trees():
